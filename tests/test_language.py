@@ -1,0 +1,161 @@
+"""The files of the package keep the rules of the language, as far as a look at the code can tell."""
+
+import ast
+import builtins
+import re
+import unittest
+from pathlib import Path
+
+FOLDER = Path(__file__).resolve().parent.parent / 'markladder'
+FILES = sorted(path for path in FOLDER.rglob('*') if '__pycache__' not in path.parts and path.is_file())
+TREES = {path.stem: ast.parse(path.read_text()) for path in FILES}
+
+USABLE = set('''len range enumerate zip min max sum abs sorted reversed int str bool bytes list tuple dict set frozenset
+isinstance ord repr any all divmod Exception ValueError TypeError KeyError IndexError LookupError ZeroDivisionError
+ArithmeticError OverflowError RuntimeError NotImplementedError AttributeError NotImplemented iter next'''.split())
+LIBRARY = {'math': {'gcd', 'lcm', 'isqrt', 'comb', 'perm', 'factorial'},
+           'heapq': {'heappush', 'heappop', 'heapify', 'heapreplace', 'heappushpop'}}
+METHODS = set('''append clear copy count endswith extend find get index insert isalnum isalpha isdigit islower isspace
+isupper items join keys ljust lower lstrip partition pop remove replace reverse rfind rjust rpartition rsplit rstrip
+setdefault split splitlines startswith strip update upper values zfill bit_length'''.split())
+BARRED = set('''register mro elements open input law version_info with_traceback add_note attrgetter breakpoint builtins
+compile copyright credits delattr dir eval exec exit gc getattr globals hasattr help id importlib license locals
+methodcaller os quit setattr super type vars sys'''.split())
+# Rules that depend on how a statement goes on are kept by not using the statement at all.
+UNUSED = (ast.AsyncFunctionDef, ast.AsyncFor, ast.AsyncWith, ast.Await, ast.AugAssign, ast.Global, ast.Nonlocal, ast.Try,
+          ast.With, ast.Match, ast.Yield, ast.YieldFrom, ast.GeneratorExp, ast.AnnAssign, ast.NamedExpr, ast.Delete,
+          ast.Pow, ast.Div, ast.MatMult, ast.Assert, ast.Set, ast.SetComp, ast.Import)
+
+
+def nodes(kind):
+    return [(name, node) for name, tree in TREES.items() for node in ast.walk(tree) if isinstance(node, kind)]
+
+
+def bound_names(function):
+    """The parameters and local variables of a function or lambda."""
+    names = [one.arg for one in ast.walk(function) if isinstance(one, ast.arg)]
+    return names + [one.id for one in ast.walk(function) if isinstance(one, ast.Name) and isinstance(one.ctx, ast.Store)]
+
+
+class LanguageTest(unittest.TestCase):
+    def test_files(self):
+        self.assertTrue(0 < len(FILES) <= 100)
+        for path in FILES:
+            with self.subTest(path=path.name):
+                self.assertRegex(path.name, r'\A(__init__|[a-z][a-z0-9_]*)\.py\Z')
+                text = path.read_text(encoding='utf-8')
+                self.assertRegex(text, r'\A[\n -~]*\n\Z')
+                lines = text.split('\n')
+                self.assertTrue(len(lines) <= 400)
+                self.assertTrue(all(len(line) <= 120 for line in lines))
+                self.assertNotRegex(text, r'_wall|_WallAttr|\(type\)|Meta|metaclass=|dataclass|overload|contextmanager')
+
+    def test_module_level(self):
+        for name, tree in TREES.items():
+            for index, node in enumerate(tree.body):
+                docstring = index == 0 and isinstance(node, ast.Expr) and isinstance(node.value, ast.Constant)
+                plain = isinstance(node, ast.Assign) and len(node.targets) == 1 and isinstance(node.targets[0], ast.Name)
+                kinds = (ast.ImportFrom, ast.FunctionDef, ast.ClassDef)
+                self.assertTrue(docstring or plain or isinstance(node, kinds), (name, node.lineno))
+                if plain:
+                    ast.literal_eval(node.value)
+
+    def test_imports(self):
+        found = {name: set() for name in TREES}
+        for name, node in nodes(ast.ImportFrom):
+            self.assertEqual(node.level, 0)
+            self.assertTrue(all(one.asname is None for one in node.names))
+            if node.module in LIBRARY:
+                self.assertTrue({one.name for one in node.names} <= LIBRARY[node.module])
+            else:
+                module = re.fullmatch(r'markladder\.([a-z_]+)', node.module)[1]
+                defined = {one.name for one in TREES[module].body if hasattr(one, 'name')}
+                defined |= {one.targets[0].id for one in TREES[module].body if isinstance(one, ast.Assign)}
+                self.assertTrue({one.name for one in node.names} <= defined, (name, node.module))
+                found[name].add(module)
+        done = set()
+        while len(done) < len(found):
+            ready = {name for name in found if name not in done and found[name] <= done}
+            self.assertTrue(ready, 'files import from each other')
+            done |= ready
+
+    def test_statements_that_are_not_used(self):
+        for kind in UNUSED:
+            self.assertEqual([(name, node.lineno) for name, node in nodes(kind) if hasattr(node, 'lineno')], [])
+        for name, node in nodes(ast.BinOp):
+            self.assertNotIsInstance(node.op, (ast.Pow, ast.Div, ast.MatMult), (name, node.lineno))
+        for name, node in nodes(ast.Constant):
+            self.assertNotIsInstance(node.value, (float, complex, bytes))
+            if isinstance(node.value, str):
+                self.assertNotIn('%', node.value)
+                self.assertNotRegex(node.value, r'\A__.*__\Z|\._{1,2}\Z')
+        for name, node in nodes(ast.Compare):
+            for operator, other in zip(node.ops, node.comparators):
+                if isinstance(operator, (ast.Is, ast.IsNot)):
+                    self.assertIn(getattr(other, 'value', 'none'), (None, True, False), (name, node.lineno))
+
+    def test_functions(self):
+        for name, node in nodes((ast.FunctionDef, ast.ClassDef)):
+            if isinstance(node, ast.FunctionDef):
+                self.assertTrue(node.end_lineno - node.lineno < 40, (name, node.name))
+                self.assertTrue(node.args.vararg is None and node.args.kwarg is None)
+            for decorator in node.decorator_list:
+                self.assertIn(decorator.id, ('property', 'classmethod'))
+            self.assertTrue(ast.get_docstring(node) or node.name.startswith('__'), (name, node.name))
+
+    def test_names(self):
+        taken = set(dir(builtins)) | BARRED
+        for name, tree in TREES.items():
+            imported = {one.name for node in ast.walk(tree) if isinstance(node, ast.ImportFrom) for one in node.names}
+            defined = {node.name for node in tree.body if hasattr(node, 'name')}
+            self.assertFalse((imported | defined) & taken, name)
+            for node in ast.walk(tree):
+                if isinstance(node, (ast.FunctionDef, ast.Lambda)):
+                    self.assertFalse(set(bound_names(node)) & (imported | defined | taken), (name, node.lineno))
+                if isinstance(node, ast.Attribute):
+                    self.assertNotIn(node.attr, BARRED)
+
+    def test_builtins(self):
+        names = set(dir(builtins))
+        for name, node in nodes(ast.Name):
+            if node.id in names and node.id not in ('property', 'classmethod'):
+                self.assertIn(node.id, USABLE, (name, node.lineno))
+
+    def test_methods(self):
+        own = {node.name for _, node in nodes(ast.FunctionDef)}
+        for name, node in nodes(ast.Call):
+            if isinstance(node.func, ast.Attribute):
+                self.assertIn(node.func.attr, METHODS | own, (name, node.lineno))
+                self.assertEqual(node.keywords, [])
+
+    def test_sets_are_sorted_or_counted(self):
+        held = []
+        for _, node in nodes(ast.Call):
+            if isinstance(node.func, ast.Name) and node.func.id in ('sorted', 'len'):
+                held.extend(id(one) for one in node.args)
+        for name, node in nodes(ast.Call):
+            if isinstance(node.func, ast.Name) and node.func.id in ('set', 'frozenset'):
+                self.assertIn(id(node), held, (name, node.lineno))
+
+    def test_what_is_iterated_at_once(self):
+        held = []
+        for _, node in nodes((ast.For, ast.comprehension)):
+            held.append(id(node.iter))
+        for _, node in nodes(ast.Call):
+            held.extend(id(one) for one in node.args)
+        for name, node in nodes(ast.Call):
+            if isinstance(node.func, ast.Name) and node.func.id in ('zip', 'enumerate', 'reversed', 'range'):
+                self.assertIn(id(node), held, (name, node.lineno))
+
+    def test_own_calls_with_what_they_take(self):
+        functions = {}
+        for _, tree in TREES.items():
+            functions.update({node.name: node for node in tree.body if isinstance(node, ast.FunctionDef)})
+        for name, node in nodes(ast.Call):
+            if isinstance(node.func, ast.Name) and node.func.id in functions:
+                takes = functions[node.func.id].args
+                self.assertEqual(len(node.args) + len(node.keywords), len(takes.args), (name, node.lineno))
+
+
+if __name__ == "__main__":
+    unittest.main()

@@ -1,0 +1,179 @@
+"""Values of every kind for each parameter: the first one that is not as stated is named."""
+
+import unittest
+
+from markladder import (arrows, changes, fulls, goodrows, hardladders, lengths, marking, nevers, parts, places, readings,
+                        roots, shapesets, tableparts, texts, ways)
+from values import (EVEN, PARITY, STEPS, TURNS, UNLIKE, check_parameters, is_int, ref_checker, ref_lot, ref_lot_of,
+                    ref_machine, ref_mark, ref_mark_of, ref_marking, ref_number, ref_row, ref_shape, ref_standing,
+                    ref_surrounding, ref_table, ref_tree)
+
+STEPS_TABLE = ('table', STEPS, ref_table)
+STEPS_LOT = ('lot', 'abcd', ref_lot_of('abcd'))
+STEPS_ONE = ('one', 'd', ref_mark_of('abcd'))
+STEPS_OTHER = ('other', 'a', ref_mark_of('abcd'))
+NUMBER = ('steps', 2, ref_number)
+SHAPE_MANY = ('many', 2, lambda thing: is_int(thing) and thing in (2, 3))
+TREE_MANY = ('many', 2, lambda thing: is_int(thing) and thing in (1, 2))
+SHAPE = ('shape', '+.+..', lambda thing: ref_shape(2, thing))
+TREE = ('tree', 'AbAab', lambda thing: ref_tree(2, thing))
+PLACE = ('place', 2, ref_standing(5))
+TABLE = ('table', UNLIKE, ref_table)
+
+
+def of_length(length):
+    return lambda thing: ref_marking(thing) and len(thing) == length
+
+
+def is_whole(thing):
+    return ref_marking(thing) and len(thing) == 5 and '?' not in thing
+
+
+def are_names(thing):
+    """Whether names suit the table UNLIKE."""
+    if type(thing) is not tuple or not all(type(pair) is tuple and len(pair) == 2 for pair in thing):
+        return False
+    if not all(ref_mark(old) and ref_mark(new) for old, new in thing):
+        return False
+    if [old for old, _ in thing] != sorted({old for old, _ in thing}):
+        return False
+    return len({dict(thing).get(mark, mark) for mark in 'abc'}) == 3
+
+
+class ParametersTest(unittest.TestCase):
+    def check(self, function, *parameters):
+        check_parameters(self, function, *parameters)
+
+    def test_tableparts(self):
+        self.check(tableparts.marks_of, TABLE)
+        self.check(tableparts.tops_of, TABLE)
+        self.check(tableparts.rows_of, TABLE, ('mark', 'b', ref_mark_of('abc')))
+        self.check(tableparts.below, TABLE, ('mark', 'b', ref_mark_of('abc')))
+        self.check(tableparts.rows_within, TABLE, ('lot', 'abz', ref_lot))
+
+    def test_places_of_shapes(self):
+        for name in ('parent_of', 'children_of', 'depth_of', 'height_of', 'part_of'):
+            self.check(vars(places)[name], SHAPE_MANY, SHAPE, PLACE)
+
+    def test_places_of_trees(self):
+        self.check(places.labels_in, TREE_MANY, TREE)
+        for name in ('label_at', 'tree_parent', 'tree_children', 'tree_part', 'surrounding_of'):
+            self.check(vars(places)[name], TREE_MANY, TREE, PLACE)
+        surrounding = ('surrounding', 'Ab_', lambda thing: ref_surrounding(2, thing))
+        self.check(places.put_in, TREE_MANY, surrounding, TREE)
+
+    def test_trees_and_shapes_for_two(self):
+        self.check(places.bare, TREE)
+        self.check(places.dressed, SHAPE, ('label', 'q', ref_mark))
+        self.check(places.read_as_tree, SHAPE, ('marking', 'cbaab', is_whole))
+
+    def test_changes_of_tables(self):
+        lacked = ('row', 'aaa', lambda thing: ref_row(2, thing) and thing not in UNLIKE[1])
+        held = ('row', 'abb', lambda thing: ref_row(2, thing) and thing in UNLIKE[1])
+        lot = ('lot', 'abz', lambda thing: ref_lot(thing) and any(set(row) <= set(thing) for row in UNLIKE[1]))
+        self.check(changes.with_row, TABLE, lacked)
+        self.check(changes.without_row, TABLE, held)
+        self.check(changes.cut_to, TABLE, lot)
+        self.check(changes.renamed, TABLE, ('names', (('a', 'd'), ('z', 'a')), are_names))
+
+    def test_changes_of_shapes(self):
+        leaf = ('place', 1, lambda thing: ref_number(thing) and thing in (1, 3, 4))
+        fork = ('place', 2, lambda thing: ref_number(thing) and thing in (0, 2))
+        self.check(changes.sprouted, SHAPE_MANY, SHAPE, leaf)
+        self.check(changes.pruned, SHAPE_MANY, SHAPE, fork)
+        self.check(changes.grafted, SHAPE_MANY, SHAPE, PLACE, ('late', '+..', lambda thing: ref_shape(2, thing)))
+
+    def test_changes_of_trees(self):
+        self.check(changes.relabelled, TREE_MANY, TREE, PLACE, ('label', 'q', ref_mark))
+        self.check(changes.tree_grafted, TREE_MANY, TREE, PLACE, ('late', 'Bcd', lambda thing: ref_tree(2, thing)))
+        self.check(changes.tree_pruned, TREE_MANY, TREE, PLACE)
+
+    def test_lines(self):
+        any_shape = ('shape', '+.+..', lambda thing: ref_shape(2, thing) or ref_shape(3, thing))
+        self.check(texts.table_line, TABLE)
+        self.check(texts.shape_line, any_shape, ('marking', '?baab', of_length(5)))
+        self.check(texts.machine_line, ('machine', EVEN, ref_machine))
+        self.check(texts.checker_line, ('checker', PARITY, ref_checker))
+
+    def test_readings(self):
+        is_text = lambda thing: type(thing) is str
+        self.check(readings.table_read, ('text', '2 abb baa', is_text))
+        self.check(readings.shape_read, SHAPE_MANY, ('text', '+.+.. a?b?c', is_text))
+        self.check(readings.machine_read, ('text', '1 ab 2 leaves 1 0 steps 1,0 0,1 good 0', is_text))
+        self.check(readings.checker_read, ('text', '1 tops - leaves - rows -', is_text))
+
+    def test_marking(self):
+        told = ('marking', '?b?a?', of_length(5))
+        for name in ('faults_of', 'is_right', 'tops_by', 'filled', 'count_filled', 'forced'):
+            self.check(vars(marking)[name], TABLE, SHAPE, told)
+
+    def test_fulls(self):
+        height = ('height', 2, ref_number)
+        self.check(fulls.full_shape, SHAPE_MANY, height)
+        self.check(fulls.falling, STEPS_TABLE, STEPS_LOT)
+        self.check(fulls.lasting, STEPS_TABLE, STEPS_LOT)
+        self.check(fulls.never_height, STEPS_TABLE)
+        self.check(fulls.full_marking, STEPS_TABLE, ('lot', 'acd', ref_lot_of('abcd')), ('mark', 'd', ref_mark_of('acd')),
+                   height)
+
+    def test_shapesets_and_nevers(self):
+        thing = ('thing', ('ever', ('abb', 'baa')), lambda thing: True)
+        self.check(shapesets.all_tops, STEPS_TABLE)
+        self.check(shapesets.least_never, STEPS_TABLE)
+        self.check(nevers.never_paper, STEPS_TABLE)
+        self.check(nevers.lets_never, STEPS_TABLE, thing)
+
+    def test_arrows(self):
+        self.check(arrows.arrows_in, STEPS_TABLE, STEPS_LOT)
+        self.check(arrows.arrow_row, STEPS_TABLE, STEPS_LOT, STEPS_ONE, STEPS_OTHER)
+        self.check(arrows.ends_by, STEPS_TABLE, STEPS_LOT, ('mark', 'd', ref_mark_of('abcd')), NUMBER)
+        self.check(arrows.way_of, STEPS_TABLE, STEPS_LOT, STEPS_ONE, STEPS_OTHER, NUMBER)
+        self.check(arrows.least_way, STEPS_TABLE, STEPS_LOT, STEPS_ONE, STEPS_OTHER)
+
+    def test_marks_outside_the_lot(self):
+        narrow = ('lot', 'abc', ref_lot_of('abcd'))
+        one, other = ('one', 'c', ref_mark_of('abc')), ('other', 'a', ref_mark_of('abc'))
+        self.check(arrows.arrow_row, STEPS_TABLE, narrow, one, other)
+        self.check(arrows.way_of, STEPS_TABLE, narrow, one, other, NUMBER)
+        self.check(lengths.lengths_of, STEPS_TABLE, narrow, one, other)
+        self.check(parts.leads, STEPS_TABLE, narrow, one, other)
+
+    def test_lengths(self):
+        self.check(lengths.lengths_of, STEPS_TABLE, STEPS_LOT, STEPS_ONE, STEPS_OTHER)
+        self.check(lengths.is_length, STEPS_TABLE, STEPS_LOT, STEPS_ONE, STEPS_OTHER, NUMBER)
+        self.check(lengths.how_many_ways, STEPS_TABLE, STEPS_LOT, STEPS_ONE, STEPS_OTHER, NUMBER)
+
+    def test_parts(self):
+        self.check(parts.parts_in, STEPS_TABLE, STEPS_LOT)
+        self.check(parts.loose_parts, STEPS_TABLE, STEPS_LOT)
+        self.check(parts.reach_of, STEPS_TABLE, STEPS_LOT, ('part', 'cd', lambda thing: thing == 'cd'))
+        self.check(parts.leads, STEPS_TABLE, STEPS_LOT, STEPS_ONE, STEPS_OTHER)
+
+    def test_ways(self):
+        thing = ('thing', ('way', 'dca'), lambda thing: True)
+        self.check(ways.way_paper, STEPS_TABLE, STEPS_LOT, STEPS_ONE, STEPS_OTHER, NUMBER)
+        self.check(ways.lets_way, STEPS_TABLE, STEPS_LOT, STEPS_ONE, STEPS_OTHER, NUMBER, thing)
+
+    def test_goodrows_and_roots(self):
+        self.check(goodrows.next_lots, STEPS_TABLE, STEPS_LOT)
+        self.check(goodrows.good_rows, STEPS_TABLE)
+        self.check(goodrows.is_good_row, STEPS_TABLE, ('thing', ('abcd',), lambda thing: True))
+        self.check(goodrows.root_of, STEPS_TABLE)
+        self.check(goodrows.at_least, STEPS_TABLE, ('k', 2, ref_number))
+        self.check(roots.root_paper, STEPS_TABLE)
+        paper = ('root', ('abcd', 'cd', 'cd'), (('loose', 'cd', (('kept', 'cd', 2, (0, 1)),)), ('kept', 'ab', 2, (0, 1))))
+        self.check(roots.lets_root, STEPS_TABLE, ('thing', paper, lambda thing: True))
+
+    def test_ladder(self):
+        self.check(hardladders.ladder, SHAPE_MANY, ('k', 2, lambda thing: is_int(thing) and 1 <= thing <= 4))
+
+    def test_one_mark_more(self):
+        # A table of one row, and a lot without marks.
+        alone = ('table', (2, ('abb',)), ref_table)
+        self.check(changes.without_row, ('table', TURNS, ref_table), ('row', 'abb', lambda thing: thing in TURNS[1]))
+        self.check(arrows.arrows_in, alone, ('lot', '', ref_lot_of('ab')))
+        self.check(tableparts.rows_of, alone, ('mark', 'b', ref_mark_of('ab')))
+
+
+if __name__ == "__main__":
+    unittest.main()
