@@ -18,7 +18,7 @@ def without_row(table, row):
     """The table without a row of it that is not the only one."""
     need(is_table(table), "table")
     many, rows = table
-    need(is_row(many, row) and row in rows and len(rows) > 1, "row")
+    need(row in rows and len(rows) > 1, "row")
     return (many, tuple([kept for kept in rows if kept != row]))
 
 

@@ -56,6 +56,6 @@ def ends_until_again(arrows, one):
 def least_period(hits):
     """The length of the shortest list of which these hits are a repetition."""
     period = 1
-    while len(hits) % period != 0 or hits != hits[:period] * (len(hits) // period):
+    while hits != hits[:period] * (len(hits) // period):
         period = period + 1
     return period

@@ -136,6 +136,5 @@ def counts_over(settings, counts):
         ways = 1
         for mark, count in zip(order, counts):
             ways = ways * count.get(mark, 0)
-        if ways > 0:
-            found[top] = found.get(top, 0) + ways
+        found[top] = found.get(top, 0) + ways
     return found

@@ -194,7 +194,7 @@ class Checker:
         return iter(self.rows)
 
     def __contains__(self, x):
-        return isinstance(x, str) and x in self.rows
+        return x in self.rows
 
     def __getitem__(self, at):
         need(is_index(at, len(self.rows)), "index")
@@ -207,7 +207,7 @@ class Checker:
 
     def __sub__(self, other):
         many, tops, leaves, rows = self.form
-        need(is_tag_row(many, other) and other in rows, "row")
+        need(other in rows, "row")
         return Checker(many, tops, leaves, tuple([kept for kept in rows if kept != other]))
 
 

@@ -23,7 +23,7 @@ def reach_of(table, lot, part):
     """The reach of a loose part of the lot."""
     need_lot(table, lot)
     arrows = arrows_from(table[1], lot)
-    need(isinstance(part, str) and part in loose_by(arrows), "part")
+    need(part in loose_by(arrows), "part")
     # No way between marks of a part leaves it, and each of its marks has an arrow to it: once all is reached,
     # it stays so.
     reach = 1
@@ -66,7 +66,7 @@ def parts_by(arrows):
         part = "".join([end for end in reached[mark] if mark in reached[end]])
         if part != "" and part not in parts:
             parts.append(part)
-    return tuple(sorted(parts))
+    return tuple(parts)
 
 
 def loose_by(arrows):

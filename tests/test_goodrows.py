@@ -112,6 +112,16 @@ class GoodRowsTest(unittest.TestCase):
         same(self, is_good_row(LOST, ('',)), False)
         same(self, is_good_row(LOST, ('abc',)), False)
 
+    def test_rows_ascend(self):
+        # A longer row stands ahead of a shorter one.
+        forked = (2, tuple(sorted(ladder(2, 3)[1] + ('gag', 'ghh', 'hgg'))))
+        same(self, good_rows(forked), (('abcdefgh', 'cdef', 'cdef', 'ef', 'ef'), ('abcdefgh', 'gh', 'gh')))
+        same(self, root_of(forked), 3)
+        # The first row in order is not the longest one.
+        forked = (2, ('abb', 'baa', 'cac', 'cdd', 'dcc', 'eag', 'eff', 'fee', 'geg', 'ghh', 'hgg'))
+        same(self, good_rows(forked), (('abcdefgh', 'cd', 'cd'), ('abcdefgh', 'efgh', 'efgh', 'gh', 'gh')))
+        same(self, root_of(forked), 3)
+
     def test_long_rows(self):
         same(self, is_good_row(UNLIKE, ('abc',) * 9999), True)
         same(self, is_good_row(UNLIKE, ('abc',) * 10000), False)

@@ -49,6 +49,7 @@ class LengthsTest(unittest.TestCase):
         same(self, lengths_of(ROUNDS, 'abcdefgh', 'a', 'd'), ((), 0, (), 1))
         same(self, lengths_of(UNLIKE, 'abc', 'a', 'a'), ((0,), 2, (0,), 1))
         same(self, lengths_of(table=UNLIKE, lot='abc', one='a', other='b'), ((), 1, (0,), 1))
+        same(self, lengths_of((2, ('bac', 'cad', 'dbb')), 'abcd', 'c', 'a'), ((), 1, (0, 1), 3))
         same(self, lengths_of((2, ('aaa',)), 'a', 'a', 'a'), ((), 0, (0,), 1))
         same(self, lengths_of((2, ('abb', 'bcc')), 'abc', 'a', 'c'), ((2,), 3, (), 1))
         both = (2, ('abe', 'bcc', 'cdd', 'daa', 'eff', 'faa'))

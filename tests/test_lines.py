@@ -67,7 +67,8 @@ class LinesTest(unittest.TestCase):
                 (0, ''), (0, ' '), (0, ' 2 abb'), (0, '1 abb'), (0, '4'), (0, '02 abb'), (0, '2\n abb'), (0, 'two'),
                 (0, '2,abb'), (0, '+2 abb'), (1, '2'), (1, '3'), (1, '2 '), (1, '2  abb'), (1, '2 -'), (1, '2 aba'),
                 (1, '2 abbb'), (1, '3 abb'), (1, '2 Abb'), (1, '2 abb\n'), (2, '2 abb '), (2, '2 abb abb'),
-                (2, '2 baa abb'), (2, '2 abb  baa'), (3, '2 abb baa b'), (2, '2 abb -'), (1, '2 ?bb')):
+                (2, '2 baa abb'), (2, '2 abb  baa'), (3, '2 abb baa b'), (2, '2 abb -'), (1, '2 ?bb'),
+                (3, '2 abb baa acc'), (4, '2 aaa abb bcc baa')):
             with self.subTest(text=text):
                 self.unread(field, table_read, text)
 
@@ -106,6 +107,12 @@ class LinesTest(unittest.TestCase):
         machine = (1, 'a', 12, (11,), ((0, 1, 2, 3, 4, 5, 6, 7, 8, 9, 10, 11),), (2, 9, 10, 11))
         same(self, machine_read(machine_line(machine)), machine)
         self.unread(9, machine_read, '1 a 12 leaves 11 steps 0,1,2,3,4,5,6,7,8,9,10,11 good 10 9')
+
+    def test_each_one_is_greater_than_the_one_before(self):
+        self.unread(10, machine_read, '1 a 3 leaves 0 steps 0,1,2 good 0 2 1')
+        self.unread(4, checker_read, '1 tops a0 c0 b0 leaves - rows -')
+        self.unread(6, checker_read, '1 tops - leaves a0 c0 b0 rows -')
+        self.unread(8, checker_read, '1 tops - leaves - rows a0a0 c0a0 b0a0')
 
     def test_checkers_that_are_none(self):
         for field, text in (

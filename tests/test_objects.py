@@ -189,6 +189,7 @@ class MachineTest(unittest.TestCase):
         same(self, (one - 0).form, (*EVEN[:5], ()))
         same(self, (Machine(*TWINS) + 2).good_now, (0, 1, 2))
         same(self, (Machine(*TWINS) - 0 + 2).good_now, (1, 2))
+        same(self, (Machine(*TWINS) - 0 + 0).good_now, (0, 1))
         self.assertIs(type(one + 1), Machine)
         self.assertIs(type(one - 0), Machine)
         self.assertTrue((one + 1) - 1 == one)
@@ -246,6 +247,7 @@ class CheckerTest(unittest.TestCase):
         refuses(self, 'row', plus, Checker(2, (), (), ()), 'a0b0')
         refuses(self, 'row', plus, one, 'a0b0c0')
         refuses(self, 'row', plus, one, 'a0a1')
+        refuses(self, 'row', minus, one, 'a0a0')
         same(self, one.form, PARITY)
 
     def test_errors_when_made(self):

@@ -1,5 +1,6 @@
 """Papers on roots ([51] to [53])."""
 
+import random
 import unittest
 
 from markladder.errors import InvalidPaper
@@ -21,6 +22,19 @@ HIGH_INNER = ('loose', 'ef', (('kept', 'ef', 2, (0, 1)),))
 HIGH_TREE = (('loose', 'cdef', (('loose', 'ef', (('kept', 'ef', 2, (1, 0)),)), KEPT_CD)), KEPT_AB)
 
 
+def sparse_tables(seed, number):
+    """Tables of few rows for each mark, by which many marks are in no part."""
+    chance = random.Random(seed)
+    tables = []
+    for _ in range(number):
+        marks = 'abcdef'[:chance.randint(2, 6)]
+        rows = {'abb', 'baa'}
+        for mark in marks[2:]:
+            rows |= {mark + ''.join(sorted(chance.choice(marks) for _ in range(2))) for _ in range(chance.randint(1, 2))}
+        tables.append((2, tuple(sorted(rows))))
+    return tables
+
+
 class OwnPapersTest(unittest.TestCase):
     def test_accepted(self):
         tables = [*TABLES, *[ladder(many, k) for many in (2, 3) for k in (1, 2, 3, 4)]]
@@ -34,6 +48,29 @@ class OwnPapersTest(unittest.TestCase):
             else:
                 self.assertTrue(paper[1][:1] == good_rows(table)[0][:1])
         same(self, lets_root(table=STEPS, thing=root_paper(table=STEPS)), 2)
+
+    def test_tables_with_a_root_above_0(self):
+        for table in sparse_tables(43, 400):
+            root, paper = root_of(table), root_paper(table)
+            same(self, lets_root(table, paper), root)
+            if root not in (0, None):
+                kind, row, tree = paper
+                same(self, (kind, len(row)), ('root', 2 * root - 1))
+                same(self, sorted(''.join(piece[1] for piece in tree)), list(row[0]))
+
+    def test_single_marks(self):
+        single = (2, ('abb', 'baa', 'cad', 'dab', 'ebc'))
+        same(self, root_of(single), 1)
+        same(self, lets_root(single, root_paper(single)), 1)
+        led = (2, ('abb', 'baa', 'cac', 'cdd', 'dcc', 'ecf', 'fac'))
+        same(self, root_of(led), 2)
+        same(self, lets_root(led, root_paper(led)), 2)
+
+    def test_longest_row(self):
+        # The first good row in order is not the longest one.
+        forked = (2, ('abb', 'baa', 'cac', 'cdd', 'dcc', 'eag', 'eff', 'fee', 'geg', 'ghh', 'hgg'))
+        same(self, root_paper(forked)[1], ('abcdefgh', 'efgh', 'efgh', 'gh', 'gh'))
+        same(self, lets_root(forked, root_paper(forked)), 3)
 
     def test_one_form_alone(self):
         for table in some_tables(41, 60, 'abcd', 7):

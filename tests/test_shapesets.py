@@ -34,6 +34,9 @@ class ShapeSetsTest(unittest.TestCase):
     def test_by_definition(self):
         for table in (TURNS, UNLIKE, DIST, LOST, STEPS, THREES):
             self.check_table(table)
+        # By these, lots are found in another order than that of their least shapes.
+        for rows in (('abc', 'bcc'), ('abc', 'cdd'), ('bac', 'caa'), ('cbb', 'dac'), ('caa', 'dbc')):
+            self.check_table((2, rows))
         for table in some_tables(26, 20, 'abcd', 7):
             self.check_table(table)
 
