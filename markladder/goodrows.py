@@ -20,14 +20,9 @@ def good_rows(table):
     done = []
     rows = [] if first == "" else [(first,)]
     while len(rows) > 0:
-        longer = []
-        for row in rows:
-            pairs = [pair for pair in next_pairs(table[1], row[-1]) if pair[1] != ""]
-            if ends_loose(table[1], row) or len(pairs) == 0:
-                done.append(row)
-            else:
-                longer.extend([(*row, part, lasts) for part, lasts in pairs])
-        rows = longer
+        later = [rows_behind(table[1], row) for row in rows]
+        done.extend([row for row, longer in zip(rows, later) if longer == []])
+        rows = [row for longer in later for row in longer]
     return tuple(sorted(done))
 
 
@@ -72,6 +67,13 @@ def first_lot(rows):
 def next_pairs(rows, lot):
     """The set of the pairs of a loose part of the lot and of what lasts in it, by these rows."""
     return tuple([(part, lasting_lot(rows, part)) for part in loose_by(arrows_from(rows, lot))])
+
+
+def rows_behind(rows, row):
+    """The list of the good rows with one lot V more than this one, none if it goes on by its last lot."""
+    if ends_loose(rows, row):
+        return []
+    return [(*row, part, lasts) for part, lasts in next_pairs(rows, row[-1]) if lasts != ""]
 
 
 def ends_loose(rows, row):

@@ -37,7 +37,71 @@ def bound_names(function):
     return names + [one.id for one in ast.walk(function) if isinstance(one, ast.Name) and isinstance(one.ctx, ast.Store)]
 
 
+CHANGING = set('append clear extend insert pop remove reverse setdefault update add discard sort'.split())
+
+
+def root_names(node):
+    """The names at the root of what a loop walks, or of what is changed: also through calls, items and choices."""
+    if isinstance(node, ast.Name):
+        return {node.id}
+    if isinstance(node, (ast.Attribute, ast.Subscript, ast.Starred)):
+        return root_names(node.value)
+    if isinstance(node, ast.IfExp):
+        return root_names(node.body) | root_names(node.orelse)
+    if isinstance(node, ast.BoolOp):
+        return set().union(*[root_names(value) for value in node.values])
+    if isinstance(node, ast.Call) and isinstance(node.func, ast.Name) and node.func.id in ('zip', 'enumerate', 'reversed'):
+        return set().union(*[root_names(value) for value in node.args])
+    if isinstance(node, ast.Call) and isinstance(node.func, ast.Attribute) and node.func.attr in ('items', 'values', 'keys'):
+        return root_names(node.func.value)
+    return set()
+
+
+def alike_names(function):
+    """For each name of a function the set of the names that may stand for the same list: by a field, by a choice."""
+    groups = {}
+    for node in ast.walk(function):
+        if isinstance(node, ast.Assign) and not isinstance(node.value, ast.Subscript):
+            names = root_names(node.value)
+            for target in node.targets:
+                names = names | (set() if isinstance(target, ast.Subscript) else root_names(target))
+            if len(names) > 1:
+                joined = set().union(names, *[groups.get(name, set()) for name in names])
+                groups.update({name: joined for name in joined})
+    return groups
+
+
+def changed_names(node):
+    """The names of what is changed within a node, by its name, an item or a field."""
+    names = set()
+    for one in ast.walk(node):
+        if isinstance(one, ast.Call) and isinstance(one.func, ast.Attribute) and one.func.attr in CHANGING:
+            names |= root_names(one.func.value)
+        if isinstance(one, (ast.Subscript, ast.Attribute)) and isinstance(one.ctx, (ast.Store, ast.Del)):
+            names |= root_names(one)
+    return names
+
+
+def loops_in(function):
+    """The pairs of what a loop or a comprehension walks, and of what is within it."""
+    for node in ast.walk(function):
+        if isinstance(node, ast.For):
+            for one in node.body:
+                yield node.iter, one
+        elif isinstance(node, (ast.ListComp, ast.SetComp, ast.DictComp, ast.GeneratorExp)):
+            for one in node.generators:
+                yield one.iter, node
+
+
 class LanguageTest(unittest.TestCase):
+    def test_what_a_loop_walks_is_not_changed_in_it(self):
+        for name, function in nodes(ast.FunctionDef):
+            groups = alike_names(function)
+            for walked, within in loops_in(function):
+                changed = changed_names(within)
+                for one in root_names(walked):
+                    self.assertFalse(groups.get(one, {one}) & changed, (name, function.name, within.lineno))
+
     def test_files(self):
         self.assertTrue(0 < len(FILES) <= 100)
         for path in FILES:
