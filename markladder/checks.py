@@ -55,6 +55,18 @@ def need_tree_place(many, tree, place):
     need(is_index(place, len(tree)), "place")
 
 
+def need_other(table, other):
+    """Refuses what are no two tables with the same many."""
+    need(is_table(table), "table")
+    need(is_table(other) and other[0] == table[0], "other")
+
+
+def need_table_shape(table, shape):
+    """Refuses what is no shape for the many of a table."""
+    need(is_table(table), "table")
+    need(is_shape(table[0], shape), "shape")
+
+
 def need_lot(table, lot):
     """Refuses what is no lot of marks of a table."""
     need(is_table(table), "table")

@@ -19,6 +19,11 @@ def is_number(thing):
     return is_integer(thing) and thing >= 0
 
 
+def is_positive(thing):
+    """Whether thing is an integer from 1 on."""
+    return is_integer(thing) and thing >= 1
+
+
 def is_index(thing, size):
     """Whether thing is a number below size."""
     return is_number(thing) and thing < size

@@ -1,7 +1,7 @@
 """Right markings of shapes: faults, and all those that agree with a marking."""
 
-from markladder.checks import lot_of, need
-from markladder.kinds import is_marking, is_shape, is_table
+from markladder.checks import lot_of, need, need_table_shape
+from markladder.kinds import is_marking
 from markladder.nesting import children_in
 
 
@@ -30,24 +30,13 @@ def is_right(table, shape, marking):
 def tops_by(table, shape, marking):
     """The lot of the marks that the top has in the right whole markings that agree with marking."""
     need_marking(table, shape, marking)
-    return possible_lots(table, shape, marking)[0]
+    return possible_lots(table, shape, told_lots(table, marking))[0]
 
 
 def filled(table, shape, marking):
     """The least right whole marking that agrees with marking, None if there is none."""
     need_marking(table, shape, marking)
-    lots = possible_lots(table, shape, marking)
-    if lots[0] == "":
-        return None
-    settings = settings_of(table[1])
-    signs = [lots[0][0] for _ in shape]
-    for place, children in enumerate(children_in(table[0], shape)):
-        if children != []:
-            below_lots = [lots[child] for child in children]
-            least = min([order for top, order in settings if top == signs[place] and suits(order, below_lots)])
-            for child, mark in zip(children, least):
-                signs[child] = mark
-    return "".join(signs)
+    return least_within(table, shape, told_lots(table, marking))
 
 
 def count_filled(table, shape, marking):
@@ -69,7 +58,7 @@ def count_filled(table, shape, marking):
 def forced(table, shape, marking):
     """The marking with the marks that are the same in all right whole markings that agree, None without these."""
     need_marking(table, shape, marking)
-    lots = possible_lots(table, shape, marking)
+    lots = possible_lots(table, shape, told_lots(table, marking))
     if lots[0] == "":
         return None
     settings = settings_of(table[1])
@@ -84,13 +73,34 @@ def forced(table, shape, marking):
 
 def need_marking(table, shape, marking):
     """Refuses what is no marking, whole or not, for a shape for the many of a table."""
-    need(is_table(table), "table")
-    need(is_shape(table[0], shape), "shape")
+    need_table_shape(table, shape)
     need(is_marking(marking) and len(marking) == len(shape), "marking")
 
 
-def possible_lots(table, shape, marking):
-    """For each place the lot of the marks that it has in the right markings of its part that agree."""
+def told_lots(table, marking):
+    """For each place the lot of the marks that it may have if a right marking agrees with this one."""
+    marks = lot_of(table[1])
+    return [marks if sign == "?" else sign for sign in marking]
+
+
+def least_within(table, shape, told):
+    """The least right whole marking in which each place has a mark of the lot told for it, None if there is none."""
+    lots = possible_lots(table, shape, told)
+    if lots[0] == "":
+        return None
+    settings = settings_of(table[1])
+    signs = [lots[0][0] for _ in shape]
+    for place, children in enumerate(children_in(table[0], shape)):
+        if children != []:
+            below_lots = [lots[child] for child in children]
+            least = min([order for top, order in settings if top == signs[place] and suits(order, below_lots)])
+            for child, mark in zip(children, least):
+                signs[child] = mark
+    return "".join(signs)
+
+
+def possible_lots(table, shape, told):
+    """For each place the lot of its marks in the right markings of its part, each place with a mark told for it."""
     marks = lot_of(table[1])
     settings = settings_of(table[1])
     children = children_in(table[0], shape)
@@ -99,7 +109,7 @@ def possible_lots(table, shape, marking):
         lot = marks
         if children[place] != []:
             lot = tops_over(settings, [lots[child] for child in children[place]])
-        lots[place] = "".join([mark for mark in lot if marking[place] in ("?", mark)])
+        lots[place] = "".join([mark for mark in lot if mark in told[place]])
     return lots
 
 

@@ -22,8 +22,8 @@ BARRED = set('''register mro elements open input law version_info with_traceback
 compile copyright credits delattr dir eval exec exit gc getattr globals hasattr help id importlib license locals
 methodcaller os quit setattr super type vars sys'''.split())
 # Rules that depend on how a statement goes on are kept by not using the statement at all.
-UNUSED = (ast.AsyncFunctionDef, ast.AsyncFor, ast.AsyncWith, ast.Await, ast.AugAssign, ast.Global, ast.Nonlocal, ast.Try,
-          ast.With, ast.Match, ast.Yield, ast.YieldFrom, ast.GeneratorExp, ast.AnnAssign, ast.NamedExpr, ast.Delete,
+UNUSED = (ast.AsyncFunctionDef, ast.AsyncFor, ast.AsyncWith, ast.Await, ast.AugAssign, ast.Global, ast.Nonlocal,
+          ast.TryStar, ast.With, ast.Match, ast.Yield, ast.YieldFrom, ast.GeneratorExp, ast.AnnAssign, ast.NamedExpr, ast.Delete,
           ast.Pow, ast.Div, ast.MatMult, ast.Assert, ast.Set, ast.SetComp, ast.Import)
 
 
@@ -157,6 +157,14 @@ class LanguageTest(unittest.TestCase):
             for operator, other in zip(node.ops, node.comparators):
                 if isinstance(operator, (ast.Is, ast.IsNot)):
                     self.assertIn(getattr(other, 'value', 'none'), (None, True, False), (name, node.lineno))
+
+    def test_own_errors_alone_are_caught(self):
+        own = {node.name for node in TREES['errors'].body if isinstance(node, ast.ClassDef)}
+        for name, node in nodes(ast.Try):
+            self.assertTrue(node.orelse == [] and node.finalbody == [] and len(node.body) == 1, (name, node.lineno))
+            for handler in node.handlers:
+                self.assertIsNone(handler.name)
+                self.assertIn(handler.type.id, own, (name, node.lineno))
 
     def test_functions(self):
         for name, node in nodes((ast.FunctionDef, ast.ClassDef)):

@@ -2,11 +2,12 @@
 
 import unittest
 
-from markladder import (arrows, changes, fulls, goodrows, hardladders, lengths, marking, nevers, parts, places, readings,
-                        roots, shapesets, tableparts, texts, ways)
-from values import (EVEN, PARITY, STEPS, TURNS, UNLIKE, check_parameters, is_int, ref_checker, ref_lot, ref_lot_of,
-                    ref_machine, ref_mark, ref_mark_of, ref_marking, ref_number, ref_row, ref_shape, ref_standing,
-                    ref_surrounding, ref_table, ref_tree)
+from markladder import (arrows, bitcodes, changes, fulls, goodrows, hardladders, hardshapes, leading, lengths, marking,
+                        nevers, parts, peeling, places, readings, rings, roots, roundmarks, rungpapers, rungs, shapesets,
+                        tableparts, tablesums, texts, walkerpapers, walkers, ways)
+from values import (EVEN, PARITY, SIDED, STEPS, TURNS, UNLIKE, check_parameters, is_int, ref_checker, ref_lot,
+                    ref_lot_of, ref_machine, ref_mark, ref_mark_of, ref_marking, ref_number, ref_row, ref_shape,
+                    ref_standing, ref_surrounding, ref_table, ref_tree)
 
 STEPS_TABLE = ('table', STEPS, ref_table)
 STEPS_LOT = ('lot', 'abcd', ref_lot_of('abcd'))
@@ -38,6 +39,15 @@ def are_names(thing):
     if [old for old, _ in thing] != sorted({old for old, _ in thing}):
         return False
     return len({dict(thing).get(mark, mark) for mark in 'abc'}) == 3
+
+
+def is_positive(thing):
+    return ref_number(thing) and thing > 0
+
+
+def are_lots(thing):
+    """Whether thing is a pair of lots of the marks a and b."""
+    return type(thing) is tuple and len(thing) == 2 and all(ref_lot_of('ab')(lot) for lot in thing)
 
 
 class ParametersTest(unittest.TestCase):
@@ -166,6 +176,75 @@ class ParametersTest(unittest.TestCase):
 
     def test_ladder(self):
         self.check(hardladders.ladder, SHAPE_MANY, ('k', 2, lambda thing: is_int(thing) and 1 <= thing <= 4))
+
+    def test_leading(self):
+        other = ('other', STEPS, lambda thing: ref_table(thing) and thing[0] == 2)
+        self.check(leading.is_leading, TABLE, other, ('names', (('a', 'c'),), lambda thing: True))
+        self.check(leading.leading_of, TABLE, other)
+
+    def test_walkers(self):
+        lot = ('lot', 'ab', ref_lot_of('abc'))
+        sides = ('lots', ('a', 'b'), are_lots)
+        self.check(walkers.is_below_lot, TABLE, lot)
+        self.check(walkers.below_lots, TABLE)
+        self.check(walkers.are_side_lots, ('table', SIDED, ref_table), sides)
+        self.check(walkers.side_lots, TABLE)
+        self.check(walkers.alike_marks, TABLE)
+        self.check(walkers.walk_marking, TABLE, ('lot', 'abc', lambda thing: thing == 'abc'), SHAPE)
+        right = ('lots', ('a', 'b'), lambda thing: thing in (('a', 'b'), ('b', 'a')))
+        self.check(walkers.side_marking, ('table', SIDED, ref_table), right, SHAPE)
+
+    def test_rings_and_walker_papers(self):
+        thing = ('thing', ('ring', ('a', 'b')), lambda thing: True)
+        ring = ('ring', ('b', 'a'), lambda thing: thing in (('a', 'b'), ('b', 'a')))
+        turns = ('table', TURNS, ref_table)
+        self.check(rings.is_ring, turns, thing)
+        self.check(rings.ring_of, turns)
+        self.check(rings.ring_marking, turns, ring, SHAPE)
+        self.check(rings.ring_paper, turns)
+        self.check(rings.lets_ring, turns, thing)
+        kind = ('kind', 'below', lambda thing: type(thing) is str and thing in ('below', 'sides'))
+        self.check(walkerpapers.walker_paper, TABLE, kind)
+        self.check(walkerpapers.lets_walker, TABLE, kind, ('thing', ('lot', 'abc'), lambda thing: True))
+
+    def test_rungs_and_sums(self):
+        is_rung = lambda thing: type(thing) is str and thing in ('0', '1', '9', '10')
+        other = ('other', TURNS, lambda thing: ref_table(thing) and thing[0] == 2)
+        self.check(rungs.rung_of, TABLE)
+        self.check(rungs.is_at_least, ('rung', '10', is_rung), ('other', '9', is_rung))
+        self.check(rungpapers.rung_paper, TABLE)
+        paper = ('rung', 'below', ('lot', 'abc'), None)
+        self.check(rungpapers.lets_rung, TABLE, ('thing', paper, lambda thing: True))
+        for name in ('pairs_of', 'at_once', 'side_by_side'):
+            self.check(vars(tablesums)[name], ('table', SIDED, ref_table), other)
+
+    def test_peeling(self):
+        g, l, k = [(name, 2, is_positive) for name in 'glk']
+        self.check(peeling.rounds_of, SHAPE_MANY, SHAPE, g, l, k)
+        self.check(peeling.left_after, SHAPE_MANY, SHAPE, g, l, ('i', 2, ref_number))
+        self.check(peeling.least_g, SHAPE_MANY, SHAPE, l, k)
+        self.check(hardshapes.hard_shape, SHAPE_MANY, ('i', 1, is_positive), ('s', 2, is_positive),
+                   ('h', 2, lambda thing: ref_number(thing)))
+
+    def test_round_markings(self):
+        row = ('row', ('abcd', 'cd', 'cd'), lambda thing: thing in (('abcd',), ('abcd', 'cd', 'cd')))
+        l = ('l', 2, lambda thing: is_positive(thing) and thing > 1)
+        g = ('g', 1, is_positive)
+        self.check(roundmarks.round_marking, STEPS_TABLE, row, SHAPE, g, l)
+        self.check(roundmarks.agrees, STEPS_TABLE, row, SHAPE, g, l, ('marking', 'abbaa', is_whole))
+        self.check(roundmarks.top_marking, STEPS_TABLE, SHAPE)
+
+    def test_bitcodes(self):
+        gap = ('gap', 2, ref_number)
+        right = lambda thing: thing in ('abbaa', 'baabb')
+        turns = ('table', TURNS, ref_table)
+        self.check(bitcodes.width_of, TABLE)
+        self.check(bitcodes.code_of, TABLE, ('mark', 'b', ref_mark_of('abc')))
+        self.check(bitcodes.period_of, TABLE, gap)
+        self.check(bitcodes.looks_of, TABLE, gap)
+        for name in ('turns_of', 'beacons_of', 'readable_of', 'regions_of'):
+            self.check(vars(bitcodes)[name], TABLE, SHAPE, gap)
+        self.check(bitcodes.bits_of, turns, SHAPE, ('marking', 'abbaa', right), gap)
 
     def test_one_mark_more(self):
         # A table of one row, and a lot without marks.

@@ -194,3 +194,36 @@ def check_parameters(case, function, *parameters):
                     refuses(case, name, function, **dict(zip(names, good[:index] + [thing] + good[index + 1:])))
                     case.assertEqual(repr(thing), kept)
     case.assertEqual(repr(function(*good)), repr(function(**dict(zip(names, good)))))
+
+
+def changed(chance, thing, pool):
+    """The value with one change somewhere within: something of the pool, an element less, twice, or in another place."""
+    if isinstance(thing, tuple) and thing and chance.random() < 0.9:
+        index = chance.randrange(len(thing))
+        kind = chance.random()
+        if kind < 0.75:
+            return thing[:index] + (changed(chance, thing[index], pool),) + thing[index + 1:]
+        if kind < 0.83:
+            return thing[:index] + thing[index + 1:]
+        if kind < 0.91:
+            return thing[:index] + (thing[index],) + thing[index:]
+        other = chance.randrange(len(thing))
+        parts = list(thing)
+        parts[index], parts[other] = parts[other], parts[index]
+        return tuple(parts)
+    return chance.choice(pool)
+
+
+def outcome(function, *arguments):
+    """What a call returns, or the error that it raises with its fields, as a string."""
+    try:
+        return repr(function(*arguments))
+    except LadderError as error:
+        return f'{error.__class__.__name__} {vars(error)!r}'
+
+
+def first_fault(faults):
+    """As outcome, of the first pair of a word and at, if there is one."""
+    for word, at in faults:
+        return f"InvalidPaper {dict(word=word, at=at)!r}"
+    return None
