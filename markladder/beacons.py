@@ -92,3 +92,14 @@ def bits_by_codes(parents, turns, codes, width):
         else:
             bits.append(codes[nearest[place]][spot])
     return "".join(bits)
+
+
+def codes_told(parents, turns, bits, readable, width):
+    """For each readable beacon the first bits at the turns of codes of which it is the nearest beacon above."""
+    nearest = nearest_above(parents, [turn == 0 for turn in turns])
+    told = {beacon: {} for beacon in readable}
+    for place, turn in enumerate(turns):
+        spot = code_spot(turn, width)
+        if spot is not None and nearest[place] in told:
+            told[nearest[place]].setdefault(spot, bits[place])
+    return {beacon: "".join([told[beacon][spot] for spot in range(width)]) for beacon in readable}

@@ -1,7 +1,7 @@
 """What refuses parameters that are not as stated, and papers that are not right."""
 
 from markladder.errors import InvalidPaper, NotUsable
-from markladder.kinds import is_index, is_lot, is_mark, is_one_of, is_shape, is_table, is_tree
+from markladder.kinds import is_index, is_lot, is_machine, is_mark, is_one_of, is_shape, is_table, is_tree
 
 
 def need(holds, name):
@@ -65,6 +65,12 @@ def need_table_shape(table, shape):
     """Refuses what is no shape for the many of a table."""
     need(is_table(table), "table")
     need(is_shape(table[0], shape), "shape")
+
+
+def need_label(machine, label):
+    """Refuses what is no label of a machine."""
+    need(is_machine(machine), "machine")
+    need(is_mark_of(label, machine[1]), "label")
 
 
 def need_lot(table, lot):

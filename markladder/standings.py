@@ -3,18 +3,28 @@
 from markladder.nesting import has_children
 
 
+def step_to(machine, spot, children):
+    """The standing of a place with this index of its label and with children of these standings."""
+    many, _, count, _, steps, _ = machine
+    return steps[spot][children[0] if many == 1 else children[0] * count + children[1]]
+
+
 def top_standing(machine, tree):
     """The standing of the top of a tree of labels of the machine."""
-    many, labels, count, leaves, steps, _ = machine
+    return whole_standing(machine, tree, None)
+
+
+def whole_standing(machine, text, hole):
+    """The standing of the top of a tree, or of what a tree of the standing of the hole makes of a surrounding."""
+    many, labels, _, leaves, _, _ = machine
     waiting = []
     # From the last place on, so that the standings of a place's children wait, the first child's on top.
-    for sign in reversed(list(tree)):
-        spot = labels.index(sign.lower())
-        if not has_children(sign):
-            waiting.append(leaves[spot])
-        elif many == 1:
-            waiting.append(steps[spot][waiting.pop()])
+    for sign in reversed(list(text)):
+        if sign == "_":
+            waiting.append(hole)
+        elif has_children(sign):
+            children = [waiting.pop() for _ in range(many)]
+            waiting.append(step_to(machine, labels.index(sign.lower()), children))
         else:
-            first = waiting.pop()
-            waiting.append(steps[spot][first * count + waiting.pop()])
+            waiting.append(leaves[labels.index(sign)])
     return waiting[0]

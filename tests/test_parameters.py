@@ -2,11 +2,12 @@
 
 import unittest
 
-from markladder import (arrows, bitcodes, changes, fulls, goodrows, hardladders, hardshapes, leading, lengths, marking,
-                        nevers, parts, peeling, places, readings, rings, roots, roundmarks, rungpapers, rungs, shapesets,
-                        tableparts, tablesums, texts, walkerpapers, walkers, ways)
-from values import (EVEN, PARITY, SIDED, STEPS, TURNS, UNLIKE, check_parameters, is_int, ref_checker, ref_lot,
-                    ref_lot_of, ref_machine, ref_mark, ref_mark_of, ref_marking, ref_number, ref_row, ref_shape,
+from markladder import (arrows, bitcodes, bitmarks, bundles, changes, fulls, goodrows, hardladders, hardshapes, joining,
+                        leading, lengths, marking, nevers, noting, parts, peeling, places, readings, rings, roots,
+                        roundmarks, rungpapers, rungs, running, seenmarks, shapesets, surroundings, tableparts, tablesums,
+                        telling, texts, views, walkerpapers, walkers, ways)
+from values import (EVEN, PARITY, SIDED, STEPS, TURNS, TWINS, UNLIKE, check_parameters, is_int, ref_checker, ref_lot,
+                    ref_lot_of, ref_machine, ref_mark, ref_mark_of, ref_marking, ref_notes, ref_number, ref_row, ref_shape,
                     ref_standing, ref_surrounding, ref_table, ref_tree)
 
 STEPS_TABLE = ('table', STEPS, ref_table)
@@ -245,6 +246,58 @@ class ParametersTest(unittest.TestCase):
         for name in ('turns_of', 'beacons_of', 'readable_of', 'regions_of'):
             self.check(vars(bitcodes)[name], TABLE, SHAPE, gap)
         self.check(bitcodes.bits_of, turns, SHAPE, ('marking', 'abbaa', right), gap)
+
+    def test_bitmarks(self):
+        gap = ('gap', 0, ref_number)
+        bits = ('bits', '1100000', lambda thing: type(thing) is str and len(thing) == 7 and set(thing) <= {*'01'})
+        seven = ('shape', '+++....', lambda thing: ref_shape(2, thing))
+        turns = ('table', TURNS, ref_table)
+        self.check(bitmarks.told_code, turns, seven, bits, gap, ('place', 0, ref_standing(1)))
+        self.check(bitmarks.marking_by, turns, seven, bits, gap)
+        self.check(bitmarks.lets_bits, turns, ('shape', '.', lambda thing: ref_shape(2, thing)), ('bits', '1', lambda thing: True), gap)
+
+    def test_views(self):
+        bits = ('bits', '11000', lambda thing: type(thing) is str and len(thing) == 5 and set(thing) <= {*'01'})
+        self.check(views.is_view, ('many', 2, lambda thing: True), ('thing', ('-', '0', 0), lambda thing: True))
+        self.check(views.view_of, SHAPE_MANY, SHAPE, bits, PLACE, NUMBER)
+        view = ('view', ('+..', '111', 1), lambda thing: thing == ('+..', '111', 1))
+        self.check(seenmarks.mark_seen, TABLE, view, ('gap', 0, ref_number))
+
+    def test_running_and_joining(self):
+        machine, label = ('machine', EVEN, ref_machine), ('label', 'b', ref_mark_of('ab'))
+        of_machine = lambda thing: ref_tree(1, thing) and set(thing.lower()) <= {'a', 'b'}
+        self.check(running.standing_of, machine, ('tree', 'ABa', of_machine))
+        self.check(running.has, machine, ('tree', 'Aq', lambda thing: ref_tree(1, thing)))
+        self.check(running.met_at, machine, label)
+        for function in (running.met, running.least_with, running.least_without, joining.least_machine):
+            self.check(function, machine)
+        other = ('other', EVEN, lambda thing: ref_machine(thing) and thing[:2] == (1, 'ab'))
+        for function in (joining.both, joining.either, joining.parting):
+            self.check(function, ('one', EVEN, ref_machine), other)
+
+    def test_noting_and_telling(self):
+        checker, tree = ('checker', PARITY, ref_checker), ('tree', 'ABa', lambda thing: ref_tree(1, thing))
+        of_tree = lambda thing: ref_notes(thing) and len(thing) == 3
+        self.check(noting.crying, checker, tree, ('notes', '011', lambda thing: of_tree(thing) and '?' not in thing))
+        self.check(noting.is_noted, checker, tree, ('thing', '011', lambda thing: True))
+        self.check(noting.noted, checker, tree, ('notes', '0?1', lambda thing: thing is None or of_tree(thing)))
+        self.check(noting.count_noted, checker, tree)
+        self.check(noting.tops_of_notes, checker, tree)
+        self.check(telling.checker_machine, checker, ('labels', 'abz', lambda thing: ref_lot(thing) and thing != ''))
+        for function in (telling.tells, telling.tell_fault):
+            self.check(function, checker, ('machine', EVEN, lambda thing: ref_machine(thing) and thing[0] == 1))
+
+    def test_surroundings_and_bundles(self):
+        machine, label = ('machine', TWINS, ref_machine), ('label', 'b', ref_mark_of('ab'))
+        some = lambda thing: (type(thing) is tuple and all(ref_standing(3)(one) for one in thing)
+                              and list(thing) == sorted(set(thing)))
+        self.check(surroundings.let_by, machine, ('surrounding', 'Ab_', lambda thing: ref_surrounding(2, thing)))
+        self.check(surroundings.accept_bundles, machine)
+        self.check(surroundings.surrounding_for, machine, ('yes', (1,), some), ('no', (), some))
+        self.check(bundles.closed_bundles, machine, label)
+        met = lambda thing: some(thing) and thing != ()
+        self.check(bundles.closing, machine, label, ('bundle', (1,), met))
+        self.check(bundles.shown_by, machine, label, ('bundle', (1,), lambda thing: thing in bundles.closed_bundles(TWINS, 'b')))
 
     def test_one_mark_more(self):
         # A table of one row, and a lot without marks.
