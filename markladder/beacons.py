@@ -22,14 +22,6 @@ def code_in(index, width):
     return bits
 
 
-def number_by(bits):
-    """The number that is written in these bits, the highest first."""
-    number = 0
-    for bit in bits:
-        number = number * 2 + int(bit)
-    return number
-
-
 def period_for(width, gap):
     """The period by a width and a gap."""
     return 2 * width + 3 + gap
@@ -102,4 +94,4 @@ def codes_told(parents, turns, bits, readable, width):
         spot = code_spot(turn, width)
         if spot is not None and nearest[place] in told:
             told[nearest[place]].setdefault(spot, bits[place])
-    return {beacon: "".join([told[beacon][spot] for spot in range(width)]) for beacon in readable}
+    return {beacon: "".join([told[beacon][index] for index in range(width)]) for beacon in readable}

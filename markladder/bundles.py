@@ -10,8 +10,8 @@ def closed_bundles(machine, label):
     need_label(machine, label)
     found = {}
     for bundle in lets_at(machine, label):
-        for closed in [bundle, *[common(bundle, other) for other in list(found)]]:
-            found[closed] = True
+        inner = [common(bundle, other) for other in list(found)]
+        found.update({closed: True for closed in [bundle, *inner]})
     return tuple([bundle for bundle in sorted(found) if bundle != ()])
 
 

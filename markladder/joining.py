@@ -2,7 +2,7 @@
 
 from markladder.checks import need
 from markladder.kinds import is_machine
-from markladder.terms import leaf_of, least_trees, machine_of, states_reached, step_of, trees_by_standing
+from markladder.terms import leaf_of, least_tree, machine_of, states_reached, step_of, trees_by_standing
 
 
 def both(one, other):
@@ -20,11 +20,9 @@ def either(one, other):
 def parting(one, other):
     """The least tree that has just one of the two properties, None if there is none."""
     need_two_machines(one, other)
-    trees = least_trees(one[0], one[1], lambda label: leaf_pair(one, other, label),
-                        lambda label, children: step_pair(one, other, label, children),
-                        lambda pair: is_parted(one, other, pair))
-    found = [trees[pair] for pair in trees if is_parted(one, other, pair)]
-    return found[0] if len(found) > 0 else None
+    return least_tree(one[0], one[1], lambda label: leaf_pair(one, other, label),
+                      lambda label, children: step_pair(one, other, label, children),
+                      lambda pair: is_parted(one, other, pair))
 
 
 def least_machine(machine):

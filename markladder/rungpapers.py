@@ -14,7 +14,6 @@ BARRED = (("log", "sides"), ("sides", "below"))
 
 def rung_paper(table):
     """A paper that lets_rung accepts."""
-    need(is_table(table), "table")
     rung = rung_of(table)
     if rung == "alike":
         held = alike_marks(table)[0]

@@ -2,7 +2,6 @@
 
 from markladder.checks import need
 from markladder.goodrows import root_of
-from markladder.kinds import is_table
 from markladder.readings import number_in
 from markladder.walkers import alike_marks, below_lots, side_lots
 
@@ -11,7 +10,6 @@ NAMES = ("log", "sides", "below", "alike")
 
 def rung_of(table):
     """The rung of the table."""
-    need(is_table(table), "table")
     root = root_of(table)
     if root is not None:
         return str(root)

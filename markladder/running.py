@@ -4,7 +4,7 @@ from markladder.checks import need, need_label
 from markladder.kinds import is_machine, is_tree
 from markladder.objects import is_tree_of
 from markladder.standings import top_standing
-from markladder.terms import standings_at, trees_by_standing
+from markladder.terms import standings_at, tree_by_standing, trees_by_standing
 
 
 def standing_of(machine, tree):
@@ -37,14 +37,10 @@ def met_at(machine, label):
 def least_with(machine):
     """The least tree that has the property, None if there is none."""
     need(is_machine(machine), "machine")
-    trees = trees_by_standing(machine)
-    found = [trees[standing] for standing in trees if standing in machine[5]]
-    return found[0] if len(found) > 0 else None
+    return tree_by_standing(machine, lambda standing: standing in machine[5])
 
 
 def least_without(machine):
     """The least tree of labels of the machine that does not have the property, None if there is none."""
     need(is_machine(machine), "machine")
-    trees = trees_by_standing(machine)
-    found = [trees[standing] for standing in trees if standing not in machine[5]]
-    return found[0] if len(found) > 0 else None
+    return tree_by_standing(machine, lambda standing: standing not in machine[5])

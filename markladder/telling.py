@@ -2,7 +2,7 @@
 
 from markladder.checks import lot_of, need
 from markladder.kinds import is_checker, is_lot, is_machine, row_tags, tags_in
-from markladder.terms import leaf_of, least_trees, machine_of, states_reached, step_of
+from markladder.terms import leaf_of, least_tree, machine_of, states_reached, step_of
 
 
 def checker_machine(checker, labels):
@@ -28,11 +28,9 @@ def tell_fault(checker, machine):
     need(is_machine(machine) and machine[0] == checker[0], "machine")
     labels = lot_of([machine[1], *[tag[0] for tag in tags_in(checker)]])
     above = tags_by_below(checker)
-    trees = least_trees(checker[0], labels, lambda label: leaf_state(checker, machine, label),
-                        lambda label, children: step_state(above, machine, label, children),
-                        lambda state: is_fault(checker, machine, state))
-    found = [trees[state] for state in trees if is_fault(checker, machine, state)]
-    return found[0] if len(found) > 0 else None
+    return least_tree(checker[0], labels, lambda label: leaf_state(checker, machine, label),
+                      lambda label, children: step_state(above, machine, label, children),
+                      lambda state: is_fault(checker, machine, state))
 
 
 def leaf_tags(checker, label):

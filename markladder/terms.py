@@ -30,6 +30,13 @@ def least_trees(many, labels, leaf, step, is_last):
     return trees
 
 
+def least_tree(many, labels, leaf, step, is_wanted):
+    """The least tree of these labels whose state is a wanted one, None if there is none; leaf and step as above."""
+    trees = least_trees(many, labels, leaf, step, is_wanted)
+    found = [tree for state, tree in trees.items() if is_wanted(state)]
+    return found[0] if len(found) > 0 else None
+
+
 def offer(offers, offered, state, tree):
     """Puts a tree for a state among the offers, if no lesser one was offered."""
     if state is not None and (state not in offered or (len(tree), tree) < offered[state]):
@@ -58,7 +65,15 @@ def step_of(machine, label, children):
 def trees_by_standing(machine):
     """The least tree of each standing that is met, as a dict that ascends by the trees."""
     return least_trees(machine[0], machine[1], lambda label: leaf_of(machine, label),
-                       lambda label, children: step_of(machine, label, children), lambda standing: False)
+                       lambda label, children: step_of(machine, label, children),
+                       lambda standing: False)
+
+
+def tree_by_standing(machine, is_wanted):
+    """The least tree whose standing is a wanted one, None if there is none."""
+    return least_tree(machine[0], machine[1], lambda label: leaf_of(machine, label),
+                      lambda label, children: step_of(machine, label, children),
+                      is_wanted)
 
 
 def standings_at(machine, label, standings):
@@ -71,15 +86,15 @@ def standings_at(machine, label, standings):
 
 def states_reached(many, labels, leaf, step):
     """The list of all states that trees of these labels have."""
-    states = []
+    states = {}
     waiting = [leaf(label) for label in labels]
     while len(waiting) > 0:
         state = waiting.pop()
         if state not in states:
-            states.append(state)
-            for children in tuples_with(list(states), state, many):
-                waiting.extend([step(label, children) for label in labels])
-    return states
+            states[state] = True
+            below = tuples_with(list(states), state, many)
+            waiting.extend([step(label, children) for children in below for label in labels])
+    return list(states)
 
 
 def machine_of(many, labels, states, leaf, step, is_good):

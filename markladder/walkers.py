@@ -43,7 +43,7 @@ def side_lots(table):
                 found.append(lots)
             else:
                 waiting.extend(wider_lots(tops, lots, gap))
-    return tuple(sorted([lots for lots in found if not any([is_less(less, lots) for less in found])]))
+    return tuple(sorted([one for one in found if not any([is_less(less, one) for less in found])]))
 
 
 def alike_marks(table):

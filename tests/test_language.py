@@ -93,7 +93,41 @@ def loops_in(function):
                 yield one.iter, node
 
 
+def own_variables(node):
+    """The variables of a comprehension or a lambda itself."""
+    if isinstance(node, ast.Lambda):
+        return {one.arg for one in node.args.args}
+    return {one.id for part in node.generators for one in ast.walk(part.target) if isinstance(one, ast.Name)}
+
+
+INNER = (ast.ListComp, ast.SetComp, ast.DictComp, ast.GeneratorExp, ast.Lambda)
+
+
 class LanguageTest(unittest.TestCase):
+    def test_variables_within_comprehensions_are_no_others(self):
+        for name, function in nodes(ast.FunctionDef):
+            inner = [one for one in ast.walk(function) if isinstance(one, INNER)]
+            within = {id(one) for node in inner for one in ast.walk(node)}
+            outer = {one.id for one in ast.walk(function)
+                     if isinstance(one, ast.Name) and isinstance(one.ctx, ast.Store) and id(one) not in within}
+            outer |= {one.arg for one in function.args.args}
+            for node in inner:
+                for one in ast.walk(node):
+                    if one is not node and isinstance(one, INNER):
+                        taken = own_variables(one) & (outer | own_variables(node))
+                        self.assertFalse(taken, (name, function.name, one.lineno))
+
+    def test_lambdas_stand_on_lines_of_their_own(self):
+        lines = [(name, node.lineno) for name, node in nodes(ast.Lambda)]
+        self.assertEqual(len(lines), len(set(lines)))
+
+    def test_imports_are_used(self):
+        for name, tree in TREES.items():
+            used = {node.id for node in ast.walk(tree) if isinstance(node, ast.Name)}
+            for node in ast.walk(tree):
+                if isinstance(node, ast.ImportFrom):
+                    self.assertLessEqual({one.name for one in node.names}, used, name)
+
     def test_what_a_loop_walks_is_not_changed_in_it(self):
         for name, function in nodes(ast.FunctionDef):
             groups = alike_names(function)

@@ -190,6 +190,16 @@ class RoundMarkingsTest(unittest.TestCase):
                         self.assertIs(agrees(table, row, shape, g, l, marking), told)
         self.assertEqual(found, {(True, True), (False, True), (False, False)})
 
+    def test_marks_of_stretches(self):
+        # On a stretch stand marks of the loose part, not only those that last in it: c does not last in acde.
+        table = (2, ('aaa', 'abc', 'ace', 'bbb', 'cab', 'dad', 'ede'))
+        row = ('abcde', 'acde', 'ade', 'a', 'a')
+        for marking, told in (('cbaaaaaaa', True), ('acbbbbbbb', False), ('abcabbbbb', False), ('aaaaaaaaa', True)):
+            self.assertEqual(is_right(table, COMB, marking), True)
+            self.assertEqual(ref_agrees(table, row, COMB, 1, 3, marking), told)
+            self.assertIs(agrees(table, row, COMB, 1, 3, marking), told)
+            self.assertIs(agrees(table, row[:3], COMB, 1, 3, marking), ref_agrees(table, row[:3], COMB, 1, 3, marking))
+
     def test_rows_of_length_1(self):
         for table, row in TABLES_AND_ROWS[::3]:
             for _, shape in [one for one in SHAPES if one[0] == table[0]][:3]:

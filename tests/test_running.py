@@ -76,6 +76,11 @@ class RunningTest(unittest.TestCase):
         tall = (2, 'a', count, (0,), (steps,), (8,))
         self.assertEqual(len(least_with(tall)), 511)
         same(self, least_with(tall), dict(met(tall))[8])
+        # What is looked for is told, however great other trees are.
+        count = 60
+        steps = tuple(p + 1 if p == q and p < count - 1 else p if p == q else 0 for p in range(count) for q in range(count))
+        same(self, least_with((2, 'a', count, (0,), (steps,), (2, 59))), 'AAaaAaa')
+        same(self, least_without((2, 'a', count, (0,), (steps,), (0, 1))), 'AAaaAaa')
 
     def test_refused(self):
         for thing in ANY:

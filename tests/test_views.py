@@ -102,6 +102,10 @@ class ViewsTest(unittest.TestCase):
                 self.assertIs(is_view(many, thing), told)
                 self.assertEqual(ref_is_view(many, thing), told)
         self.assertIs(is_view(many=2, thing=('-', '0', 0)), True)
+        for sign in [chr(code) for code in range(32, 127)] + ['\n']:
+            for view in (('+' + sign + '.', '111', 0), ('+' + sign + '.', '1_1', 0), (sign + '..', '111', 0), (sign, '1', 0),
+                         ('+..', '1' + sign + '1', 0), ('+_.', '1' + sign + '1', 0), (sign + '+..', '111', 0)):
+                self.assertIs(is_view(2, view), ref_is_view(2, view))
 
     def test_any_value(self):
         chance = random.Random(101)
