@@ -10,7 +10,7 @@ def let_by(machine, surrounding):
     """The bundle of all standings that the surrounding lets."""
     need(is_machine(machine), "machine")
     need(is_surrounding(machine[0], surrounding), "surrounding")
-    if not all([sign == "_" or sign in machine[1] for sign in surrounding.lower()]):
+    if not is_surrounding_of(machine, surrounding):
         return ()
     standings = sorted(trees_by_standing(machine))
     return tuple([standing for standing in standings if whole_standing(machine, surrounding, standing) in machine[5]])
@@ -32,6 +32,11 @@ def surrounding_for(machine, yes, no):
         if all([standing in bundle for standing in yes]) and not any([standing in bundle for standing in no]):
             return surroundings[bundle]
     return None
+
+
+def is_surrounding_of(machine, thing):
+    """Whether any value is a surrounding with labels of the machine alone."""
+    return is_surrounding(machine[0], thing) and all([sign == "_" or sign in machine[1] for sign in thing.lower()])
 
 
 def is_bundle(machine, thing):

@@ -84,6 +84,30 @@ def standings_at(machine, label, standings):
     return tuple(sorted(set(found)))
 
 
+def trees_at(machine, label):
+    """For each standing that is met at the label a tree of it with this label at its top."""
+    trees = trees_by_standing(machine)
+    found = {leaf_of(machine, label): label}
+    for standing in trees:
+        for children in tuples_with(list(trees), standing, machine[0]):
+            tree = label.upper() + "".join([trees[child] for child in children])
+            found.setdefault(step_of(machine, label, children), tree)
+    return found
+
+
+def choices_of(lists):
+    """The list of all tuples of one element of each of these lists."""
+    choices = [()]
+    for some in lists:
+        choices = [(*choice, one) for choice in choices for one in some]
+    return choices
+
+
+def steps_over(machine, label, standings):
+    """The set of the standings of a place with this label, each child having some of the standings told for it."""
+    return tuple(sorted(set([step_of(machine, label, children) for children in choices_of(standings)])))
+
+
 def states_reached(many, labels, leaf, step):
     """The list of all states that trees of these labels have."""
     states = {}

@@ -6,43 +6,14 @@ import unittest
 
 from markladder.bundles import closed_bundles, closing, shown_by
 from markladder.surroundings import accept_bundles, let_by, surrounding_for
-from machines import (ALL, DEEP, GAP, MACHINES, MIX, NONE, ONLY_A, RAFT, UNMET, holds, leaf, least_trees, lets,
-                      met_with, run, small_trees, some_machines, step, surroundings_up_to)
+from closures import accepts_of, closed_at, least_trees_at, some_bundles
+from machines import (ALL, DEEP, GAP, MACHINES, MIX, NONE, ONLY_A, RAFT, UNMET, holds, least_trees, lets,
+                      met_with, run, small_trees, some_machines, surroundings_up_to)
 from values import ANY, EVEN, TWINS, is_int, ref_machine, ref_surrounding, refuses, same
 
 CHANCE = random.Random(140)
 SOME = MACHINES + some_machines(141, 40, most=4)
 MOST = {(1, 1): 9, (1, 2): 6, (1, 3): 5, (2, 1): 9, (2, 2): 5, (2, 3): 4}
-
-
-def ref_accepts(machine):
-    """All bundles that surroundings let, from the one of the hole alone on."""
-    standings = sorted(least_trees(machine))
-    found, waiting = set(), [tuple(q for q in standings if q in machine[5])]
-    while waiting:
-        bundle = waiting.pop()
-        if bundle in found:
-            continue
-        found.add(bundle)
-        for label, spot in itertools.product(machine[1], range(machine[0])):
-            for others in itertools.product(standings, repeat=machine[0] - 1):
-                waiting.append(tuple(q for q in standings if step(machine, label, others[:spot] + (q,) + others[spot:]) in bundle))
-    return tuple(sorted(found))
-
-
-def ref_closed(machine, label):
-    met = met_with(machine, label)
-    lots = {tuple(q for q in met if q in bundle) for bundle in ref_accepts(machine)}
-    found = []
-    for some in some_bundles(met)[1:]:
-        around = [set(one) for one in lots if set(some) <= set(one)]
-        if around and set.intersection(*around) == set(some):
-            found.append(some)
-    return tuple(sorted(found))
-
-
-def some_bundles(standings):
-    return [bundle for size in range(len(standings) + 1) for bundle in itertools.combinations(standings, size)]
 
 
 def is_bundle(machine):
@@ -74,7 +45,7 @@ class SurroundingsTest(unittest.TestCase):
     def test_accept_bundles(self):
         empty = 0
         for machine in SOME:
-            accepts = ref_accepts(machine)
+            accepts = accepts_of(machine)
             same(self, accept_bundles(machine=machine), accepts)
             empty += () in accepts
             for text in surroundings_up_to(machine[0], machine[1], 4):
@@ -87,7 +58,7 @@ class SurroundingsTest(unittest.TestCase):
     def test_surrounding_for(self):
         nones = 0
         for machine in SOME:
-            accepts = ref_accepts(machine)
+            accepts = accepts_of(machine)
             bundles = some_bundles(sorted(least_trees(machine)))
             for yes in CHANCE.sample(bundles, min(len(bundles), 8)):
                 for no in CHANCE.sample(bundles, min(len(bundles), 8)):
@@ -138,7 +109,7 @@ class BundlesTest(unittest.TestCase):
         counts = set()
         for machine in SOME:
             for label in machine[1]:
-                closed = ref_closed(machine, label)
+                closed = closed_at(machine, label)
                 same(self, closed_bundles(machine, label), closed)
                 counts.add(len(closed))
         self.assertTrue({0, 1, 2, 3, 4, 5} <= counts)
@@ -152,7 +123,7 @@ class BundlesTest(unittest.TestCase):
         nones = 0
         for machine in SOME:
             for label in machine[1]:
-                closed = ref_closed(machine, label)
+                closed = closed_at(machine, label)
                 for bundle in some_bundles(met_with(machine, label))[1:]:
                     around = [one for one in closed if set(bundle) <= set(one)]
                     least = min(around, key=len, default=None)
@@ -214,15 +185,6 @@ class BundlesTest(unittest.TestCase):
                 refuses(self, 'label', closing, EVEN, thing, None)
                 refuses(self, 'label', shown_by, EVEN, thing, None)
         same(self, closed_bundles(DEEP, 'a') != (), True)
-
-
-def least_trees_at(machine, label):
-    """For each standing met at the label a tree of it with this label at its top."""
-    found = {leaf(machine, label): label}
-    trees = least_trees(machine)
-    for below in itertools.product(trees, repeat=machine[0]):
-        found.setdefault(step(machine, label, below), label.upper() + ''.join(trees[q] for q in below))
-    return found
 
 
 if __name__ == "__main__":

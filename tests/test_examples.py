@@ -297,6 +297,12 @@ STAGE_18 = """
 >>> from markladder.bundles import closed_bundles, closing
 >>> [closed_bundles(GAP, 'a'), closing(GAP, 'a', (0,))]
 [((0, 1, 2), (0, 2), (1, 2), (2,)), (0, 2)]
+>>> from markladder.greatest import bundle_of, greatest
+>>> [greatest(EVEN) == PARITY, bundle_of(TWINS, 'b1')]
+[True, (0, 1)]
+>>> from markladder.tagleading import leading_tags, useful
+>>> [useful(PARITY), leading_tags(PARITY, EVEN)[1]]
+[('a0', 'a1', 'b0', 'b1'), ('a1', 'a1')]
 """
 
 
@@ -362,7 +368,8 @@ class ExamplesTest(unittest.TestCase):
         self.run_stage(STAGE_16, STAGE_17)
 
     def test_stage_18(self):
-        self.run_stage(STAGE_18)
+        # The points of this stage speak of a value of the stage before.
+        self.run_stage(STAGE_16, STAGE_17, STAGE_18)
 
 
 if __name__ == "__main__":

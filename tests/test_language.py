@@ -260,7 +260,8 @@ class LanguageTest(unittest.TestCase):
         for name, node in nodes(ast.Call):
             if isinstance(node.func, ast.Name) and node.func.id in functions:
                 takes = functions[node.func.id].args
-                self.assertEqual(len(node.args) + len(node.keywords), len(takes.args), (name, node.lineno))
+                self.assertIn(len(node.args) + len(node.keywords), (len(takes.args), len(takes.args + takes.kwonlyargs)),
+                              (name, node.lineno))
 
 
 if __name__ == "__main__":

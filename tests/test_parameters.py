@@ -2,13 +2,14 @@
 
 import unittest
 
-from markladder import (arrows, bitcodes, bitmarks, bundles, changes, fulls, goodrows, hardladders, hardshapes, joining,
-                        leading, lengths, marking, nevers, noting, parts, peeling, places, readings, rings, roots,
-                        roundmarks, rungpapers, rungs, running, seenmarks, shapesets, surroundings, tableparts, tablesums,
+from markladder import (arrows, bitcodes, bitmarks, bundles, changes, choices, covers, coverchecker, coverchoices,
+                        coverpapers, crossings, fewest, fulls, goodrows, greatest, hardladders, hardshapes, joining, leading,
+                        lengths, marking, needs, nevers, noting, parts, peeling, places, readings, rings, roots, roundmarks,
+                        rungpapers, rungs, running, seenmarks, shapesets, surroundings, tableparts, tablesums, tagleading,
                         telling, texts, views, walkerpapers, walkers, ways)
 from values import (EVEN, PARITY, SIDED, STEPS, TURNS, TWINS, UNLIKE, check_parameters, is_int, ref_checker, ref_lot,
-                    ref_lot_of, ref_machine, ref_mark, ref_mark_of, ref_marking, ref_notes, ref_number, ref_row, ref_shape,
-                    ref_standing, ref_surrounding, ref_table, ref_tree)
+                    ref_lot_of, ref_machine, ref_mark, ref_mark_of, ref_marking, ref_notes, ref_number, ref_row, ref_set,
+                    ref_shape, ref_standing, ref_surrounding, ref_table, ref_tree)
 
 STEPS_TABLE = ('table', STEPS, ref_table)
 STEPS_LOT = ('lot', 'abcd', ref_lot_of('abcd'))
@@ -298,6 +299,37 @@ class ParametersTest(unittest.TestCase):
         met = lambda thing: some(thing) and thing != ()
         self.check(bundles.closing, machine, label, ('bundle', (1,), met))
         self.check(bundles.shown_by, machine, label, ('bundle', (1,), lambda thing: thing in bundles.closed_bundles(TWINS, 'b')))
+
+    def test_greatest_and_choices(self):
+        machine = ('machine', EVEN, ref_machine)
+        are_tags = lambda thing: ref_set(thing, lambda tag: tag in ('a0', 'a1', 'b0', 'b1'))
+        for function in (greatest.greatest, greatest.tags_of, choices.least_choices, fewest.fewest_notes, fewest.fewest_in_all,
+                         fewest.numbers_enough, coverchoices.cover_numbers, coverchoices.is_clear):
+            self.check(function, machine)
+        self.check(greatest.bundle_of, machine, ('tag', 'b1', lambda thing: thing in ('a0', 'a1', 'b0', 'b1')))
+        for function in (choices.with_choice, choices.is_enough, coverchoices.are_covered):
+            self.check(function, machine, ('tags', ('a0', 'b1'), are_tags))
+
+    def test_tagleading(self):
+        of_one = lambda thing: ref_checker(thing) and thing[0] == 1
+        self.check(tagleading.useful, ('checker', PARITY, ref_checker))
+        self.check(tagleading.is_tag_leading, ('one', PARITY, ref_checker), ('other', PARITY, of_one),
+                   ('thing', (('a0', 'a0'),), lambda thing: True))
+
+    def test_needs_and_covers(self):
+        machine, label = ('machine', EVEN, ref_machine), ('label', 'b', ref_mark_of('ab'))
+        thing = ('thing', ((0,), (1,)), lambda thing: True)
+        for function in (needs.outer_bundles, needs.inner_bundles, needs.needs_at, crossings.most_crossing, covers.least_cover):
+            self.check(function, machine, label)
+        self.check(crossings.is_crossing, machine, label, thing)
+        self.check(crossings.crossing, machine, label, ('size', 1, ref_number))
+        self.check(covers.is_cover, machine, label, thing)
+        self.check(covers.first_lack, machine, label, ('bundles', ((1,),), lambda thing: ref_set(thing, lambda one: one in ((0,), (1,)))))
+        kind = ('kind', 'inner', lambda thing: type(thing) is str and thing in ('inner', 'outer'))
+        self.check(coverchoices.cover_tags, machine, kind)
+        self.check(coverpapers.cover_paper, machine, kind)
+        paper = ('inner', ((((0,), (1,)), ()), (((0,), (1,)), ())))
+        self.check(coverchecker.lets_cover, machine, ('thing', paper, lambda thing: True))
 
     def test_one_mark_more(self):
         # A table of one row, and a lot without marks.
