@@ -16,8 +16,19 @@ def top_standing(machine, tree):
 
 def whole_standing(machine, text, hole):
     """The standing of the top of a tree, or of what a tree of the standing of the hole makes of a surrounding."""
+    return standings_by(machine, text, hole)[0]
+
+
+def standings_in(machine, tree):
+    """The list of the standings of all places of a tree of labels of the machine."""
+    return standings_by(machine, tree, None)
+
+
+def standings_by(machine, text, hole):
+    """The list of the standings of all places of a tree or a surrounding, the hole having the one told for it."""
     many, labels, _, leaves, _, _ = machine
     waiting = []
+    found = []
     # From the last place on, so that the standings of a place's children wait, the first child's on top.
     for sign in reversed(list(text)):
         if sign == "_":
@@ -27,4 +38,5 @@ def whole_standing(machine, text, hole):
             waiting.append(step_to(machine, labels.index(sign.lower()), children))
         else:
             waiting.append(leaves[labels.index(sign)])
-    return waiting[0]
+        found.append(waiting[-1])
+    return found[::-1]

@@ -9,7 +9,7 @@ from markladder.bitmarks import lets_bits, marking_by, told_code
 from markladder.errors import InvalidPaper
 from markladder.marking import filled
 from oracles import is_right, marks_in, shapes_up_to
-from test_bitcodes import CASES, EIGHT, FIVE, ONE, SOME, Told, ref_code
+from test_bitcodes import CASES, ONE, Told, ref_code
 from values import ANY, DIST, LOST, SIDED, TURNS, UNLIKE, faulty, first_fault, outcome, refuses, same
 
 COMB, BITS = '+.' * 8 + '.', '11100000011110011'

@@ -12,7 +12,7 @@ from markladder.kinds import is_checker
 from markladder.telling import tells
 from closures import LIMITED, bundles_of, chosen, greatest_of, some_bundles, tags_of_row, tells_by
 from machines import ALL, GAP, MIX, NONE, ONLY_A, RAFT, least_trees
-from values import ANY, EVEN, PARITY, TWINS, ref_machine, ref_set, refuses, same
+from values import ANY, EVEN, ref_machine, ref_set, refuses, same
 
 CHANCE = random.Random(190)
 FEW = [machine for machine in LIMITED if len(bundles_of(machine)) <= 6] + [RAFT, MIX]

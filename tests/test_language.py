@@ -155,7 +155,10 @@ class LanguageTest(unittest.TestCase):
                 plain = isinstance(node, ast.Assign) and len(node.targets) == 1 and isinstance(node.targets[0], ast.Name)
                 kinds = (ast.ImportFrom, ast.FunctionDef, ast.ClassDef)
                 self.assertTrue(docstring or plain or isinstance(node, kinds), (name, node.lineno))
-                if plain:
+                if plain and isinstance(node.value, ast.Dict):
+                    above = {one.name for one in tree.body[:index] if isinstance(one, ast.FunctionDef)}
+                    self.assertTrue(all(isinstance(one, ast.Name) and one.id in above for one in node.value.values))
+                elif plain:
                     ast.literal_eval(node.value)
 
     def test_imports(self):
@@ -195,16 +198,39 @@ class LanguageTest(unittest.TestCase):
     def test_own_errors_alone_are_caught(self):
         own = {node.name for node in TREES['errors'].body if isinstance(node, ast.ClassDef)}
         for name, node in nodes(ast.Try):
-            self.assertTrue(node.orelse == [] and node.finalbody == [] and len(node.body) == 1, (name, node.lineno))
+            self.assertTrue(node.orelse == [], (name, node.lineno))
             for handler in node.handlers:
-                self.assertIsNone(handler.name)
                 self.assertIn(handler.type.id, own, (name, node.lineno))
+            for one in node.finalbody:
+                # No sign, call or item: an attribute is assigned a name.
+                self.assertTrue(isinstance(one, ast.Assign) and isinstance(one.value, ast.Name), (name, node.lineno))
+                self.assertTrue(all(isinstance(target, ast.Attribute) for target in one.targets), (name, node.lineno))
+
+    def test_caught_errors_are_asked_for_their_fields(self):
+        for name, handler in nodes(ast.ExceptHandler):
+            used = [one for one in ast.walk(handler) if isinstance(one, ast.Name) and one.id == handler.name]
+            held = [one.value for one in ast.walk(handler) if isinstance(one, ast.Attribute)]
+            self.assertTrue(all(one in held for one in used), (name, handler.lineno))
+
+    def test_stars_in_calls_stand_over_names(self):
+        for name, node in nodes(ast.Call):
+            for one in node.args:
+                self.assertTrue(not isinstance(one, ast.Starred) or isinstance(one.value, ast.Name), (name, node.lineno))
+            self.assertTrue(all(one.arg is not None for one in node.keywords), (name, node.lineno))
+
+    def test_what_is_reversed(self):
+        # Some classes have items.
+        for name, node in nodes(ast.Call):
+            if isinstance(node.func, ast.Name) and node.func.id == 'reversed':
+                inner = node.args[0]
+                self.assertTrue(isinstance(inner, ast.Call) and inner.func.id in ('list', 'tuple', 'sorted', 'range'),
+                                (name, node.lineno))
 
     def test_functions(self):
         for name, node in nodes((ast.FunctionDef, ast.ClassDef)):
             if isinstance(node, ast.FunctionDef):
                 self.assertTrue(node.end_lineno - node.lineno < 40, (name, node.name))
-                self.assertTrue(node.args.vararg is None and node.args.kwarg is None)
+                self.assertTrue(node.args.kwarg is None)
             for decorator in node.decorator_list:
                 self.assertIn(decorator.id, ('property', 'classmethod'))
             self.assertTrue(ast.get_docstring(node) or node.name.startswith('__'), (name, node.name))
@@ -241,7 +267,7 @@ class LanguageTest(unittest.TestCase):
                 held.extend(id(one) for one in node.args)
         for name, node in nodes(ast.Call):
             if isinstance(node.func, ast.Name) and node.func.id in ('set', 'frozenset'):
-                self.assertIn(id(node), held, (name, node.lineno))
+                self.assertTrue(id(node) in held, (name, node.lineno))
 
     def test_what_is_iterated_at_once(self):
         held = []
@@ -251,7 +277,7 @@ class LanguageTest(unittest.TestCase):
             held.extend(id(one) for one in node.args)
         for name, node in nodes(ast.Call):
             if isinstance(node.func, ast.Name) and node.func.id in ('zip', 'enumerate', 'reversed', 'range'):
-                self.assertIn(id(node), held, (name, node.lineno))
+                self.assertTrue(id(node) in held, (name, node.lineno))
 
     def test_own_calls_with_what_they_take(self):
         functions = {}

@@ -6,7 +6,7 @@ from markladder.errors import InvalidPaper
 from markladder.fulls import falling, lasting
 from markladder.nevers import lets_never, never_paper
 from oracles import inside, marks_in, some_lots, some_tables
-from values import ANY, DIST, LOST, STEPS, TABLES, TURNS, UNLIKE, faulty, same
+from values import ANY, LOST, STEPS, TABLES, UNLIKE, faulty, same
 
 DOOMED = (2, ('abb', 'bcc', 'cdd'))
 

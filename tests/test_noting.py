@@ -8,7 +8,7 @@ from markladder.kinds import is_machine
 from markladder.noting import count_noted, crying, is_noted, noted, tops_of_notes
 from markladder.objects import Checker
 from markladder.telling import checker_machine, tell_fault, tells
-from machines import (ALL, CHECKERS, GAP, MACHINES, NONE, holds, key, leaf, least_by, small_trees, some_checker,
+from machines import (ALL, CHECKERS, GAP, NONE, holds, key, leaf, least_by, small_trees, some_checker,
                       some_machine, some_tree, step)
 from oracles import places_in
 from values import (ANY, EVEN, PARITY, TWINS, ref_checker, ref_lot, ref_machine, ref_notes, ref_tree, refuses, same)

@@ -2,12 +2,13 @@
 
 import unittest
 
-from markladder import (arrows, bitcodes, bitmarks, bundles, changes, choices, covers, coverchecker, coverchoices,
-                        coverpapers, crossings, fewest, fulls, goodrows, greatest, hardladders, hardshapes, joining, leading,
-                        lengths, marking, needs, nevers, noting, parts, peeling, places, readings, rings, roots, roundmarks,
-                        rungpapers, rungs, running, seenmarks, shapesets, surroundings, tableparts, tablesums, tagleading,
-                        telling, texts, views, walkerpapers, walkers, ways)
-from values import (EVEN, PARITY, SIDED, STEPS, TURNS, TWINS, UNLIKE, check_parameters, is_int, ref_checker, ref_lot,
+from markladder import (abovenotes, arrows, belownotes, bitcodes, bitmarks, bundles, changes, choices, covers, coverchecker,
+                        coverchoices, coverpapers, crossings, cutparts, fewest, fulls, goodrows, greatest, hardladders,
+                        hardshapes, joining, leading, lengths, looks, marking, needs, nevers, notebits, noting, parts, peeling,
+                        places, readings, rings, roots, roundmarks, rungpapers, rungs, running, seenmarks, shapesets,
+                        surroundings, tablenotes, tableparts, tablesums, tagleading, telling, texts, turning, views,
+                        walkerpapers, walkers, ways, woodevents, woods, woodtexts)
+from values import (ANY, EVEN, PARITY, SIDED, STEPS, TURNS, TWINS, UNLIKE, check_parameters, is_int, refuses, ref_checker, ref_lot,
                     ref_lot_of, ref_machine, ref_mark, ref_mark_of, ref_marking, ref_notes, ref_number, ref_row, ref_set,
                     ref_shape, ref_standing, ref_surrounding, ref_table, ref_tree)
 
@@ -330,6 +331,60 @@ class ParametersTest(unittest.TestCase):
         self.check(coverpapers.cover_paper, machine, kind)
         paper = ('inner', ((((0,), (1,)), ()), (((0,), (1,)), ())))
         self.check(coverchecker.lets_cover, machine, ('thing', paper, lambda thing: True))
+
+    def test_laid_notes(self):
+        machine = ('machine', EVEN, ref_machine)
+        row_machine = ('machine', EVEN, lambda thing: ref_machine(thing) and thing[0] == 1)
+        is_even = lambda thing: ref_tree(1, thing) and thing.lower().count('a') % 2 == 0 and set(thing.lower()) <= {*'ab'}
+        tree, any_tree = ('tree', 'ABa', is_even), ('tree', 'ABa', lambda thing: ref_tree(1, thing))
+        for function in (belownotes.below_numbers, belownotes.below_checker):
+            self.check(function, machine)
+        for function in (abovenotes.above_numbers, abovenotes.above_checker, turning.turned_machine):
+            self.check(function, row_machine)
+        self.check(belownotes.below_notes, machine, tree)
+        self.check(abovenotes.above_notes, row_machine, tree)
+        self.check(belownotes.is_from_below, ('checker', PARITY, ref_checker), row_machine)
+        self.check(turning.turned_tree, any_tree)
+        self.check(turning.turned_notes, any_tree, ('notes', '0?1', lambda thing: ref_notes(thing) and len(thing) == 3))
+        self.check(turning.turned_checker, ('checker', PARITY, lambda thing: ref_checker(thing) and thing[0] == 1))
+        table = ('table', TURNS, lambda thing: ref_table(thing) and thing[0] == 2)
+        self.check(tablenotes.table_checker, table)
+        self.check(tablenotes.shapes_machine, table)
+
+    def test_notebits(self):
+        checker, tree = ('checker', PARITY, ref_checker), ('tree', 'Aa', lambda thing: ref_tree(1, thing))
+        bits = ('bits', '11', lambda thing: type(thing) is str and len(thing) == 2 and set(thing) <= {*'01'})
+        gap = ('gap', 3, ref_number)
+        self.check(notebits.note_width, checker)
+        self.check(notebits.note_bits, checker, tree, ('notes', '01', lambda thing: thing == '01'), gap)
+        self.check(notebits.tree_regions, checker, tree, gap)
+        self.check(notebits.notes_by, checker, tree, bits, gap)
+        self.check(notebits.bits_say, checker, tree, bits, gap)
+        self.check(notebits.why_no, checker, tree, bits, gap, ('place', 1, ref_standing(2)))
+
+    def test_looks(self):
+        machine, depth = ('machine', EVEN, ref_machine), ('depth', 1, ref_number)
+        of_machine = lambda thing: ref_tree(1, thing) and set(thing.lower()) <= {'a', 'b'}
+        self.check(cutparts.cut_part, TREE_MANY, TREE, PLACE, ('depth', 2, ref_number))
+        for function in (cutparts.top_cuts, cutparts.inner_cuts, looks.tells_by_looks, looks.looks_paper):
+            self.check(function, machine, depth)
+        self.check(looks.passes, machine, ('tree', 'ABa', of_machine), depth)
+        self.check(looks.least_look, machine)
+        paper = ('tree', 'a', (('Aa', 0),))
+        self.check(looks.lets_looks, machine, ('depth', 0, ref_number), ('thing', paper, lambda thing: True))
+
+    def test_woods(self):
+        any_thing = lambda thing: True
+        self.check(woodevents.is_event, ('thing', ('bit', 0), any_thing))
+        self.check(woodevents.is_log, ('thing', (('wood', TURNS, '.'),), any_thing))
+        self.check(woodtexts.event_line, ('event', ('bit', 0), lambda thing: thing == ('bit', 0)))
+        log = ('log', (('wood', TURNS, '.'), ('bit', 0)), lambda thing: type(thing) is tuple and thing[:1] == (('wood', TURNS, '.'),))
+        self.check(woodtexts.log_lines, log)
+        for thing in ANY:
+            refuses(self, 'log', woods.replayed, thing)
+        self.check(woodtexts.read_event, ('text', 'walk below', lambda thing: type(thing) is str))
+        are_lines = lambda thing: type(thing) is list and all(type(line) is str for line in thing)
+        self.check(woodtexts.read_log, ('lines', ['wood 2 abb', 'shape .'], are_lines))
 
     def test_one_mark_more(self):
         # A table of one row, and a lot without marks.
