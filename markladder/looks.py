@@ -21,7 +21,6 @@ def passes(machine, tree, depth):
 
 def tells_by_looks(machine, depth):
     """Whether looks of the depth tell the machine."""
-    need_depth(machine, depth)
     return passing_fault(machine, depth) is None
 
 
@@ -36,7 +35,6 @@ def least_look(machine):
 
 def looks_paper(machine, depth):
     """A paper on whether looks of the depth tell the machine."""
-    need_depth(machine, depth)
     tree = passing_fault(machine, depth)
     if tree is None:
         return ("closed", tuple(sorted(passing_pairs(machine, depth))))
@@ -51,7 +49,7 @@ def lets_looks(machine, depth, thing):
         judge_pairs(machine, depth, thing[1])
         judge_closed(machine, depth, thing[1])
         return True
-    judge_tree(machine, depth, thing[1], thing[2])
+    judge_witnesses(machine, depth, thing[1], thing[2])
     return False
 
 
@@ -79,7 +77,7 @@ def passing_fault(machine, depth):
     return least_tree(machine[0], machine[1],
                       lambda label: passing(machine, inner, tops, pair_above(machine, depth, label, ())),
                       lambda label, below: passing(machine, inner, tops, pair_above(machine, depth, label, below)),
-                      lambda pair: is_fault(machine, tops, pair))
+                      lambda pair: is_wrong_top(machine, tops, pair))
 
 
 def passing_pairs(machine, depth):
@@ -92,11 +90,11 @@ def passing_pairs(machine, depth):
 
 
 def passing(machine, inner, tops, pair):
-    """The pair, None if its cut part is none of the inner ones and it is no fault."""
-    return pair if pair[0] in inner or is_fault(machine, tops, pair) else None
+    """The pair, None if its cut part is none of the inner ones and no top of it would be wrong."""
+    return pair if pair[0] in inner or is_wrong_top(machine, tops, pair) else None
 
 
-def is_fault(machine, tops, pair):
+def is_wrong_top(machine, tops, pair):
     """Whether a top with this cut part and standing passes without the property."""
     return pair[0] in tops and pair[1] not in machine[5]
 
@@ -152,10 +150,10 @@ def judge_closed(machine, depth, pairs):
         for indexes in [(), *choices]:
             pair = pair_above(machine, depth, label, [pairs[index] for index in indexes])
             judge(pair[0] not in inner or pair in known, "inner", (spot, *indexes))
-            judge(not is_fault(machine, tops, pair), "top", (spot, *indexes))
+            judge(not is_wrong_top(machine, tops, pair), "top", (spot, *indexes))
 
 
-def judge_tree(machine, depth, tree, witnesses):
+def judge_witnesses(machine, depth, tree, witnesses):
     """Judges a tree that lacks the property, and the witnesses for its places."""
     judge(is_tree_of(machine, tree), "tree", -1)
     judge(not has(machine, tree), "has", -1)

@@ -45,7 +45,7 @@ def is_tag_leading(one, other, thing):
     _, tops, leaves, rows = other
     return (all([names[tag] in tops for tag in one[1] if tag in names])
             and all([names[tag] in leaves for tag in one[2] if tag in names])
-            and all([renamed_row(row, names) in rows for row in one[3] if has_names(row, names)]))
+            and all([row_by_names(row, names) in rows for row in one[3] if has_names(row, names)]))
 
 
 def tags_let_somewhere(checker):
@@ -91,6 +91,6 @@ def has_names(row, names):
     return all([tag in names for tag in row_tags(row)])
 
 
-def renamed_row(row, names):
+def row_by_names(row, names):
     """The row with the new names of its tags."""
     return "".join([names[tag] for tag in row_tags(row)])

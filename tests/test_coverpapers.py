@@ -105,7 +105,7 @@ class CoverPapersTest(unittest.TestCase):
         busy = [machine for machine in SOME if sum(len(closed_at(machine, label)) for label in machine[1]) > 1]
         for machine in busy:
             for kind in kinds_of(machine):
-                for _ in range(30):
+                for _ in range(18):
                     paper = cover_paper(machine, kind)
                     for _ in range(CHANCE.choice((1, 1, 1, 2, 3))):
                         paper = changed(CHANCE, paper, pool)

@@ -143,7 +143,7 @@ class FromBelowTest(unittest.TestCase):
         seen = {True: 0, False: 0}
         for machine, checker in self.cases():
             pairs = pairs_for(checker, machine)
-            if len(pairs) <= 8:
+            if len(pairs) <= 7:
                 told = any(are_closed(checker, machine, some) for some in some_bundles(pairs))
                 self.assertIs(is_from_below(checker, machine), told)
                 seen[told] += len(pairs) > 1

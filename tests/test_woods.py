@@ -146,6 +146,17 @@ class WoodsTest(unittest.TestCase):
             single.sprout(place)
         same(self, single.bits_now, '1' + '11' + '00' + '11' + '11' + '00')
 
+    def test_codes_of_unlike_beacons(self):
+        # The new places are of turn 3, below the beacon at depth 5; place 5, of turn 3 too, is below the top.
+        wood = Wood(TURNS, '+.' * 7 + '.')
+        wood.bit(5)
+        wood.bit(6)
+        wood.sprout(14)
+        same(self, wood.bits_now, '11100' + '11' + '00' + '11' + '11' + '00' + '00')
+        wood.undo()
+        wood.sprout(3)
+        same(self, wood.bits_now, '1110' + '11' + '0' + '11' + '00' + '11' + '11' + '00')
+
     def test_starts(self):
         for table, shape in STARTS:
             wood = Wood(table=table, shape=shape)
