@@ -150,4 +150,10 @@ UNCLEAR = [(1, 'a', 4, (1,), ((2, 0, 3, 2),), (0, 1, 2)), (1, 'a', 5, (3,), ((2,
 # By outer bundles some covers are smaller than by inner ones.
 BY_OUTER = [(1, 'ab', 5, (4, 3), ((1, 1, 4, 4, 1), (0, 3, 4, 1, 2)), (0, 1, 3)),
             (1, 'ab', 4, (0, 0), ((0, 0, 3, 3), (2, 3, 0, 1)), (0, 2)), (1, 'ab', 4, (2, 0), ((1, 0, 3, 2), (2, 0, 2, 0)), (2, 3))]
+# Their greatest checkers have nine, nine, ten, twelve and ten tags, more than the limits let.
+OVER = [(1, 'ad', 5, (4, 1), ((0, 0, 2, 4, 0), (1, 3, 1, 3, 4)), (0, 1, 2)),
+        (1, 'abd', 4, (0, 3, 3), ((1, 0, 1, 1), (2, 2, 3, 2), (3, 1, 3, 1)), (1, 2, 3)),
+        (1, 'ac', 4, (2, 3), ((0, 1, 2, 0), (3, 0, 2, 1)), (3,)),
+        (1, 'cd', 5, (2, 4), ((3, 3, 1, 3, 2), (3, 4, 2, 3, 1)), (0, 2, 3, 4)),
+        (2, 'ab', 4, (0, 3), (tuple(q for q in (0, 1, 2, 3) for _ in range(4)), tuple(q for q in (1, 2, 1, 2) for _ in range(4))), (0, 1))]
 LIMITED = [machine for machine in MACHINES[:10] + UNCLEAR + BY_OUTER if within_limits(machine)] + limited_machines(9)

@@ -10,7 +10,7 @@ from markladder.fewest import fewest_in_all, fewest_notes, numbers_enough
 from markladder.greatest import greatest, tags_of
 from markladder.kinds import is_checker
 from markladder.telling import tells
-from closures import LIMITED, bundles_of, chosen, greatest_of, some_bundles, tags_of_row, tells_by
+from closures import LIMITED, OVER, bundles_of, chosen, greatest_of, some_bundles, tags_of_row, tells_by
 from machines import ALL, GAP, MIX, NONE, ONLY_A, RAFT, least_trees
 from values import ANY, EVEN, ref_machine, ref_set, refuses, same
 
@@ -60,9 +60,9 @@ class ChoicesTest(unittest.TestCase):
         same(self, [least_choices(NONE), least_choices(ALL), least_choices(ONLY_A)], [((),), (('a0', 'b0'),), (('a0',),)])
 
     def test_eight_tags(self):
-        """As many tags as the limits let: no tag can go, and none of the choices lies within another one."""
-        great = [machine for machine in LIMITED if len(bundles_of(machine)) > 6]
-        self.assertTrue(len(great) > 6)
+        """As many tags as the limits let, and more: no tag can go, and none of the choices lies within another one."""
+        great = [machine for machine in LIMITED if len(bundles_of(machine)) > 6] + OVER[:3]
+        self.assertTrue(len(great) > 9)
         for machine in great:
             least = least_choices(machine)
             self.assertTrue(least != () and list(least) == sorted(set(least)))

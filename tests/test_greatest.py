@@ -10,7 +10,7 @@ from markladder.kinds import is_checker
 from markladder.noting import noted
 from markladder.tagleading import is_tag_leading, leading_tags, useful
 from markladder.telling import tells
-from closures import LIMITED, bundles_of, chosen, greatest_of, some_bundles, tags_of_row, tells_by
+from closures import LIMITED, OVER, bundles_of, chosen, greatest_of, some_bundles, tags_of_row, tells_by
 from machines import ALL, CHECKERS, GAP, NONE, ONLY_A, UNMET, holds, met_with, small_trees
 from values import ANY, EVEN, PARITY, TWINS, ref_checker, ref_machine, refuses, same
 
@@ -76,6 +76,14 @@ class GreatestTest(unittest.TestCase):
         same(self, tags_of(NONE), ())
         same(self, [tags_of(ONLY_A), tags_of(UNMET)], [('a0',), ('a0', 'b0')])
         same(self, greatest(ONLY_A), (1, ('a0',), ('a0',), ('a0a0',)))
+
+    def test_over_the_limits(self):
+        self.assertEqual([len(bundles_of(machine)) for machine in OVER], [9, 9, 10, 12, 10])
+        for machine in OVER:
+            same(self, greatest(machine), greatest_of(machine))
+            self.assertIs(tells(greatest(machine), machine), True)
+            same(self, useful(greatest(machine)), tags_of(machine))
+            same(self, leading_tags(greatest(machine), machine), tuple((tag, tag) for tag in tags_of(machine)))
 
     def test_it_tells(self):
         """[89]"""

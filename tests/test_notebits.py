@@ -310,8 +310,9 @@ class NoteBitsTest(unittest.TestCase):
                 seen.add(found)
         self.assertEqual(seen, {True, False})
 
-    def test_two_hundred_signs(self):
-        tree = 'B' * 99 + 'A' + 'B' * 99 + 'a'
+    def test_four_hundred_signs(self):
+        # More than the limit asks for.
+        tree = 'B' * 299 + 'A' + 'B' * 99 + 'a'
         notes = noted(PARITY, tree)
         bits = note_bits(PARITY, tree, notes, 0)
         same(self, bits, Laid(PARITY, tree, 0).bits(notes))

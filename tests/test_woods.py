@@ -196,6 +196,12 @@ class WoodsTest(unittest.TestCase):
         three.sprout(1)
         same(self, len(three), 58)
 
+    def test_more_than_sixty_places_from_the_beginning(self):
+        wood = Wood(TURNS, '+.' * 40 + '.')
+        same(self, [len(wood), wood.barred(('sprout', 1)), wood.barred(('bit', 80))], [81, 'great', None])
+        wood.do_all(('bit', 80), ('prune', 70), ('helper', filled(TURNS, '+.' * 35 + '.', '?' * 71)))
+        same(self, [len(wood), wood.cry_now, is_right(TURNS, wood.shape_now, wood.laid_now)], [71, None, True])
+
     def test_forty_events(self):
         wood = Wood(UNLIKE, '.')
         for _ in range(40):
